@@ -1,0 +1,1 @@
+"""Perfect graphs, told from seven sides."""

@@ -1,0 +1,201 @@
+"""Graphs to test with, and plain searches that share nothing with the program."""
+
+from itertools import combinations, permutations
+
+HOUSE = (5, ((0, 1), (0, 3), (1, 2), (1, 4), (2, 3), (2, 4)))
+FIVE = (5, ((0, 1), (0, 4), (1, 2), (2, 3), (3, 4)))
+DOUBLED = (6, ((0, 1), (0, 4), (0, 5), (1, 2), (2, 3), (3, 4), (3, 5), (4, 5)))
+
+
+class Odd:
+    """A value of no kind that the program knows, equal to everything."""
+
+    def __eq__(self, other):
+        return True
+
+    __hash__ = None
+
+
+def nested(depth):
+    value = ()
+    for _ in range(depth):
+        value = (value,)
+    return value
+
+
+ANY_VALUES = [
+    None, True, False, 0, 1, 5, -1, 10 ** 39, "", "vertices 0\n", "?", b"", b"?", (), (0,), [], {}, {0: 1}, set(),
+    frozenset(), object(), Odd(), len, int, 1j, range(3), nested(30), ((), ()), ("hole", (0, 1, 2, 3)),
+]
+
+NO_GRAPHS = ANY_VALUES + [
+    (10, ()), (10, ((0, 1),)), (-1, ()), (2,), (2, (), ()), (True, ()), (False, ()), (None, ()), ("2", ()), ((2,), ()),
+    [2, ()], (2, []), (2, [(0, 1)]), (2, None), (2, True), (2, "01"), (2, {}), (2, {(0, 1): 1}), (2, 0),
+    (2, ((1, 0),)), (2, ((0, 1), (1, 0))), (2, ((0, 1), (0, 1))), (3, ((0, 2), (0, 1))), (3, ((1, 2), (0, 2))),
+    (3, ((0, 1), (1, 2), (0, 2))), (2, ((0, 0),)), (2, ((0, 2),)), (2, ((2, 3),)), (2, ((-1, 1),)), (0, ((0, 1),)),
+    (1, ((0, 1),)), (2, ([0, 1],)), (2, ((False, 1),)), (2, ((0, True),)), (3, ((True, 2),)), (2, ((0,),)),
+    (2, ((0, 1, 1),)), (2, ((),)), (2, ((0, None),)), (2, (("0", "1"),)), (2, ((0, (1,)),)), (2, (0, 1)),
+    (2, (None,)), (2, ("01",)), (2, ({0: 1},)), (3, ((0, 1), None)), (3, ((0, 1), [0, 2])), (2, ((0, nested(25)),)),
+    (2, ((0, Odd()),)), (Odd(), ()), (2, Odd()), (2, (Odd(),)), (9, ((8, 9),)),
+]
+
+
+def all_pairs(many):
+    return list(combinations(range(many), 2))
+
+
+def graph_with(many, edges):
+    """The GRAPH with these edges, told in any order and either way round."""
+    return (many, tuple(sorted({(min(pair), max(pair)) for pair in edges})))
+
+
+def graph_by(many, code):
+    """The graph of which bit k of the code tells the k-th pair."""
+    return (many, tuple(pair for at, pair in enumerate(all_pairs(many)) if code >> at & 1))
+
+
+def all_graphs(many):
+    return [graph_by(many, code) for code in range(2 ** len(all_pairs(many)))]
+
+
+def opposite(graph):
+    many, edges = graph
+    return graph_with(many, set(all_pairs(many)) - set(edges))
+
+
+def round_of(many):
+    """The graph of so many vertices that go round."""
+    return graph_with(many, [(at, (at + 1) % many) for at in range(many)])
+
+
+def copied(graph, vertex, adjacent):
+    """One vertex more, adjacent to what the vertex is adjacent to, and to it if asked for."""
+    many, edges = graph
+    near = [other for other in range(many) if (min(vertex, other), max(vertex, other)) in edges]
+    more = [(other, many) for other in near + ([vertex] if adjacent else [])]
+    return graph_with(many + 1, list(edges) + more)
+
+
+def scattered(many, count):
+    """Graphs spread over all densities, the same ones each time."""
+    size = len(all_pairs(many))
+    found, state = [], 12345
+    codes = []
+    for _ in range(3 * count):
+        state = (state * 6364136223846793005 + 1442695040888963407) % 2 ** 64
+        codes.append(state >> (64 - size))
+    for at in range(count):
+        one, other, third = codes[3 * at:3 * at + 3]
+        found.append(graph_by(many, (one, one & other, one | other, one & (other | third))[at % 4]))
+    return found
+
+
+def renamed_by(graph, names):
+    many, edges = graph
+    return graph_with(many, [(names[one], names[other]) for one, other in edges])
+
+
+def odd_rounds_and_kin():
+    """Odd holes and antiholes of 5, 7, 9, alone, with an edge less or more, with copies, renamed."""
+    found = []
+    for many in (5, 7, 9):
+        for graph in (round_of(many), opposite(round_of(many))):
+            found.append(graph)
+            found.append(renamed_by(graph, [at * 2 % many for at in range(many)]))
+            for pair in all_pairs(many)[:many]:
+                found.append(graph_with(many, set(graph[1]) ^ {pair}))
+            if many < 9:
+                found.extend([copied(graph, 0, True), copied(graph, many - 1, False), copied(graph, 2, True)])
+                found.append(copied(copied(graph, 1, True), 0, False))
+                found.append((many + 1, graph[1]))
+                found.append(graph_with(many + 1, list(graph[1]) + [(at, many) for at in range(many)]))
+    return found
+
+
+def even_rounds():
+    return [graph for many in (4, 6, 8) for graph in (round_of(many), opposite(round_of(many)))]
+
+
+def small_graphs():
+    return [graph for many in range(5) for graph in all_graphs(many)]
+
+
+def extreme_graphs():
+    """Of each size the graph without edges and the one with all."""
+    return [graph for many in range(10) for graph in ((many, ()), opposite((many, ())))]
+
+
+def lots_of(graph):
+    """All lots of the graph's vertices."""
+    many = graph[0]
+    return [lot for size in range(many + 1) for lot in combinations(range(many), size)]
+
+
+def induced_by(graph, lot):
+    places = {vertex: at for at, vertex in enumerate(lot)}
+    pairs = [(places[one], places[other]) for one, other in graph[1] if one in places and other in places]
+    return graph_with(len(lot), pairs)
+
+
+def is_colourable(graph, colours):
+    many, edges = graph
+    near = {vertex: [one for one, other in edges if other == vertex] for vertex in range(many)}
+
+    def goes_on(told):
+        if len(told) == many:
+            return True
+        barred = {told[other] for other in near[len(told)]}
+        return any(goes_on(told + [colour]) for colour in range(colours) if colour not in barred)
+
+    return goes_on([])
+
+
+def chromatic_number_of(graph):
+    return next(colours for colours in range(graph[0] + 1) if is_colourable(graph, colours))
+
+
+def greatest_clique_of(graph):
+    many, edges = graph
+    for size in range(many, -1, -1):
+        if any(all(pair in edges for pair in combinations(lot, 2)) for lot in combinations(range(many), size)):
+            return size
+
+
+def greatest_stable_of(graph):
+    return greatest_clique_of(opposite(graph))
+
+
+def is_round_told_well(graph, vertices):
+    """Whether the unlike vertices are a hole, word by word as the document tells it."""
+    many, edges = graph
+    size = len(vertices)
+    if size < 4 or vertices[0] != min(vertices) or not vertices[1] < vertices[-1]:
+        return False
+    ring = {frozenset((vertices[at], vertices[(at + 1) % size])) for at in range(size)}
+    inside = {frozenset(pair) for pair in edges if pair[0] in vertices and pair[1] in vertices}
+    return ring == inside
+
+
+def holes_of(graph):
+    """All holes: each lot whose vertices all have two neighbours in it, walked round from its least one."""
+    many, edges = graph
+    near = {vertex: {sum(pair) - vertex for pair in edges if vertex in pair} for vertex in range(many)}
+    found = []
+    for lot in lots_of(graph):
+        if len(lot) < 4 or any(len(near[vertex] & set(lot)) != 2 for vertex in lot):
+            continue
+        walk = [lot[0], min(near[lot[0]] & set(lot))]
+        while True:
+            ahead = (near[walk[-1]] & set(lot)) - {walk[-2]}
+            if lot[0] in ahead:
+                break
+            walk.extend(ahead)
+        if len(walk) == len(lot):
+            found.append(tuple(walk))
+    return tuple(sorted(found))
+
+
+def holes_by_orders(graph):
+    """All holes by trying each order of each lot."""
+    lots = [lot for lot in lots_of(graph) if len(lot) >= 4]
+    return tuple(sorted(way for lot in lots for way in permutations(lot) if is_round_told_well(graph, way)))

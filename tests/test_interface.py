@@ -1,0 +1,35 @@
+"""The names of the interface: each in its file, with its parameters, answering by position and by name."""
+
+import inspect
+import unittest
+from importlib import import_module
+
+SIGNATURES = {
+    "graphs": {"is_graph": "value", "complement": "graph"},
+    "texts": {"read_graph": "text", "print_graph": "graph", "graph6": "graph", "from_graph6": "text"},
+    "holes": {
+        "holes": "graph", "antiholes": "graph", "is_hole": "graph value", "is_antihole": "graph value",
+        "odd_one": "graph", "is_berge": "graph",
+    },
+    "perfection": {
+        "is_perfect": "graph", "lacking": "graph", "thin": "graph", "is_minimal": "graph", "minimal_lots": "graph",
+    },
+}
+
+
+class Interface(unittest.TestCase):
+    def test_each_function_stands_in_its_file_with_its_parameters(self):
+        for module_name, functions in SIGNATURES.items():
+            module = import_module(f"perfectgraphs.{module_name}")
+            for name, parameters in functions.items():
+                function = getattr(module, name)
+                self.assertEqual(function.__module__, module.__name__)
+                told = inspect.signature(function).parameters.values()
+                self.assertEqual([parameter.name for parameter in told], parameters.split())
+                for parameter in told:
+                    self.assertEqual(parameter.kind, parameter.POSITIONAL_OR_KEYWORD)
+                    self.assertIs(parameter.default, parameter.empty)
+
+
+if __name__ == "__main__":
+    unittest.main()

@@ -40,6 +40,29 @@ NO_GRAPHS = ANY_VALUES + [
 ]
 
 
+def bent(value):
+    """Values that differ from this one, of tuples and numbers, at one place, at any depth."""
+    if type(value) is not tuple:
+        others = [
+            value + 1, value - 1, -value, bool(value), True, False, str(value), None, (value,), [value], 10 ** 39,
+            -10 ** 39, Odd(), (value, 1), {value: value},
+        ]
+        return [other for other in others if not is_among(other, [value])]
+    found = [list(value), value + (0,), value + ((),), value + value[-1:] * 2, None, (value,), repr(value), {}]
+    for at in range(len(value)):
+        ahead, behind = value[:at], value[at + 1:]
+        found.append(ahead + behind)
+        found.append(ahead + (value[at], value[at]) + behind)
+        found.append(value[:at - 1] + (value[at], value[at - 1]) + behind if at else value[::-1])
+        found.extend(ahead + (other,) + behind for other in bent(value[at]))
+    return [other for other in found if not is_among(other, [value])]
+
+
+def is_among(value, right_ones):
+    """Whether the value is one of these to the letter: a list is no tuple, True is no number."""
+    return any(type(value) is type(one) and repr(value) == repr(one) for one in right_ones)
+
+
 def all_pairs(many):
     return list(combinations(range(many), 2))
 
@@ -152,6 +175,78 @@ def is_colourable(graph, colours):
 
 def chromatic_number_of(graph):
     return next(colours for colours in range(graph[0] + 1) if is_colourable(graph, colours))
+
+
+def fewest_colours_of(graph):
+    """The chromatic number by all ways to part the vertices into stable sets."""
+    many, edges = graph
+
+    def fewest(parts, vertex, bound):
+        if vertex == many or len(parts) >= bound:
+            return min(len(parts), bound)
+        for at, part in enumerate(parts):
+            if all((other, vertex) not in edges for other in part):
+                bound = fewest(parts[:at] + [part + [vertex]] + parts[at + 1:], vertex + 1, bound)
+        return fewest(parts + [[vertex]], vertex + 1, bound)
+
+    return fewest([], 0, many)
+
+
+def cliques_of(graph):
+    """All cliques, () and those that are not maximal among them, each pair looked up."""
+    return [lot for lot in lots_of(graph) if all(pair in graph[1] for pair in combinations(lot, 2))]
+
+
+def stable_sets_of(graph):
+    return [lot for lot in lots_of(graph) if not any(pair in graph[1] for pair in combinations(lot, 2))]
+
+
+def maximal_of(lots):
+    """The lots within no other one, ascending."""
+    sets = [set(lot) for lot in lots]
+    return tuple(sorted(lot for lot in lots if not any(set(lot) < other for other in sets)))
+
+
+def modules_of(graph):
+    """All modules, each vertex outside being looked at."""
+    many, edges = graph
+    found = []
+    for lot in lots_of(graph):
+        outside = [vertex for vertex in range(many) if vertex not in lot]
+        near = [sum((min(one, vertex), max(one, vertex)) in edges for one in lot) for vertex in outside]
+        if 2 <= len(lot) < many and all(number in (0, len(lot)) for number in near):
+            found.append(lot)
+    return tuple(sorted(found))
+
+
+def self_complementary(many, choice):
+    """A graph that vertices turned round by fours lead to its complement; bits of the choice tell which."""
+    turned = [at // 4 * 4 + (at + 1) % 4 for at in range(many // 4 * 4)] + list(range(many // 4 * 4, many))
+    edges, seen = set(), set()
+    for pair in all_pairs(many):
+        is_edge = choice & 1
+        if pair not in seen:
+            choice >>= 1
+        while pair not in seen:
+            seen.add(pair)
+            if is_edge:
+                edges.add(pair)
+            is_edge = not is_edge
+            pair = tuple(sorted((turned[pair[0]], turned[pair[1]])))
+    return graph_with(many, edges)
+
+
+def shuffles(many, count):
+    """Orders of the numbers below this one, the same ones each time."""
+    found = [tuple(range(many)), tuple(range(many))[::-1]]
+    order, state = list(range(many)), 2024
+    while len(found) < count:
+        for at in range(many - 1, 0, -1):
+            state = (state * 6364136223846793005 + 1442695040888963407) % 2 ** 64
+            other = (state >> 40) % (at + 1)
+            order[at], order[other] = order[other], order[at]
+        found.append(tuple(order))
+    return found
 
 
 def greatest_clique_of(graph):

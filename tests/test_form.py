@@ -16,6 +16,7 @@ METHODS = set((
     "join keys ljust lower lstrip partition pop remove replace reverse rfind rjust rpartition rsplit rstrip setdefault "
     "split splitlines startswith strip update upper values zfill bit_length add discard"
 ).split())
+LIBRARY = {"itertools": ("combinations", "permutations", "product"), "math": ("gcd", "lcm")}
 BARRED = (ast.Global, ast.AsyncFunctionDef, ast.AsyncFor, ast.AsyncWith, ast.Await, ast.Div, ast.MatMult, ast.Import)
 
 
@@ -61,13 +62,16 @@ class Form(unittest.TestCase):
             for node in ast.walk(tree):
                 if isinstance(node, ast.ImportFrom):
                     self.assertEqual(node.level, 0, name)
+                    self.assertEqual([alias.asname for alias in node.names], [None] * len(node.names), name)
+                    if node.module in LIBRARY:
+                        self.assertTrue({alias.name for alias in node.names} <= set(LIBRARY[node.module]), name)
+                        continue
                     self.assertTrue(node.module.startswith("perfectgraphs."), (name, node.module))
                     source = (PACKAGE / (node.module.split(".")[1] + ".py")).read_text(encoding="utf-8")
                     defined = [row.name for row in ast.parse(source).body
                                if isinstance(row, (ast.FunctionDef, ast.ClassDef))]
                     defined += [row.targets[0].id for row in ast.parse(source).body if isinstance(row, ast.Assign)]
                     for alias in node.names:
-                        self.assertIsNone(alias.asname)
                         self.assertIn(alias.name, defined, name)
 
     def test_words_of_the_language(self):

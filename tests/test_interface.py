@@ -5,7 +5,25 @@ import unittest
 from importlib import import_module
 
 SIGNATURES = {
-    "graphs": {"is_graph": "value", "complement": "graph"},
+    "graphs": {
+        "is_graph": "value", "is_lot": "graph value", "are_adjacent": "graph one other", "complement": "graph",
+        "induced": "graph lot",
+    },
+    "cliques": {
+        "is_clique": "graph lot", "is_stable": "graph lot", "cliques": "graph", "stable_sets": "graph",
+        "clique_number": "graph", "stable_number": "graph", "chromatic_number": "graph",
+        "is_colouring": "graph value", "colouring": "graph",
+    },
+    "substitution": {
+        "substituted": "graph vertex other", "union": "graph other", "join": "graph other",
+        "replicated": "graph times", "multiplied": "graph times", "is_module": "graph value", "modules": "graph",
+        "taken_apart": "graph module",
+    },
+    "isomorphisms": {
+        "is_renaming": "graph value", "renamed": "graph renaming", "does_lead": "graph other value",
+        "renaming_to": "graph other", "are_isomorphic": "graph other", "is_self_complementary": "graph",
+        "automorphisms": "graph", "least_form": "graph",
+    },
     "texts": {"read_graph": "text", "print_graph": "graph", "graph6": "graph", "from_graph6": "text"},
     "holes": {
         "holes": "graph", "antiholes": "graph", "is_hole": "graph value", "is_antihole": "graph value",

@@ -1,0 +1,157 @@
+"""Of each function: the first wrong argument in the order of the signature is told, whatever the others are."""
+
+import unittest
+from itertools import product
+
+import helper
+from helper import FIVE, HOUSE
+from perfectgraphs import cliques, graphs, isomorphisms, substitution
+from perfectgraphs.errors import (
+    GraphError, InvalidGraph, InvalidLot, InvalidRenaming, InvalidTimes, InvalidVertex, TooMany,
+)
+
+
+def but(right_ones, *more):
+    """Values of any kind but those to the letter, and more of them."""
+    return [value for value in helper.ANY_VALUES + list(more) if not helper.is_among(value, right_ones)]
+
+
+# Each kind of parameter, for the house: the error, a right value, wrong ones.
+GRAPH = (InvalidGraph, HOUSE, helper.NO_GRAPHS)
+OTHER = (InvalidGraph, (3, ((0, 2),)), helper.NO_GRAPHS)
+LOT = (InvalidLot, (1, 4), but(
+    helper.lots_of(HOUSE), [0, 1], (1, 0), (2, 2), (0, 5), (-1, 3), (True, 2), (0, True), ("0",), (0, None), (0, (1,)),
+    (0, 10 ** 39), tuple(range(6)), (0,) * 2000, (helper.Odd(),)))
+VERTEX = (InvalidVertex, 2, but(range(5), -5, 6, "0", (1,), [1], 9))
+TIMES = (InvalidTimes, (1, 0, 2, 0, 1), but(
+    [], [1, 0, 2, 0, 1], (1, 0, 2, 0), (1, 0, 2, 0, 1, 1), (1, 0, 2, 0, -1), (1, 0, 2, 0, True), (False, 0, 2, 0, 1),
+    (1, 0, 2, 0, "1"), (1, 0, 2, 0, None), ((1,), 0, 2, 0, 1), (-10 ** 39, 9, 9, 9, 9), (1,) * 2000, "10201",
+    (helper.Odd(),) * 5))
+MODULE = (InvalidLot, (0, 3), but(
+    [], [0, 3], (3, 0), (0,), (0, 1), (0, 3, 3), (0, 1, 2, 3, 4), (False, 3), (0, "3"), (0, None), (0, 3, 5), (0, 10)))
+RENAMING = (InvalidRenaming, (3, 2, 1, 0, 4), but(
+    [], [3, 2, 1, 0, 4], (3, 2, 1, 0), (3, 2, 1, 0, 4, 5), (3, 2, 1, 0, 5), (3, 2, 1, 0, 0), (3, 2, True, 0, 4),
+    (3, 2, 1, False, 4), (3, 2, 1, 0, "4"), (3, 2, 1, 0, None), (3, 2, 1, 0, -1), "32104", {3: 3}, (4,) * 2000,
+    (helper.Odd(),) * 5))
+
+# A value, whatever it is, is never refused.
+FREE = (None, (), [])
+
+FUNCTIONS = {
+    graphs.is_lot: {"graph": GRAPH, "value": FREE},
+    graphs.are_adjacent: {"graph": GRAPH, "one": VERTEX, "other": VERTEX},
+    graphs.complement: {"graph": GRAPH},
+    graphs.induced: {"graph": GRAPH, "lot": LOT},
+    cliques.is_clique: {"graph": GRAPH, "lot": LOT},
+    cliques.is_stable: {"graph": GRAPH, "lot": LOT},
+    cliques.cliques: {"graph": GRAPH},
+    cliques.stable_sets: {"graph": GRAPH},
+    cliques.clique_number: {"graph": GRAPH},
+    cliques.stable_number: {"graph": GRAPH},
+    cliques.chromatic_number: {"graph": GRAPH},
+    cliques.is_colouring: {"graph": GRAPH, "value": FREE},
+    cliques.colouring: {"graph": GRAPH},
+    substitution.substituted: {"graph": GRAPH, "vertex": VERTEX, "other": OTHER},
+    substitution.union: {"graph": GRAPH, "other": OTHER},
+    substitution.join: {"graph": GRAPH, "other": OTHER},
+    substitution.replicated: {"graph": GRAPH, "times": TIMES},
+    substitution.multiplied: {"graph": GRAPH, "times": TIMES},
+    substitution.is_module: {"graph": GRAPH, "value": FREE},
+    substitution.modules: {"graph": GRAPH},
+    isomorphisms.is_renaming: {"graph": GRAPH, "value": FREE},
+    isomorphisms.renamed: {"graph": GRAPH, "renaming": RENAMING},
+    isomorphisms.does_lead: {"graph": GRAPH, "other": OTHER, "value": FREE},
+    isomorphisms.renaming_to: {"graph": GRAPH, "other": OTHER},
+    isomorphisms.are_isomorphic: {"graph": GRAPH, "other": OTHER},
+    isomorphisms.is_self_complementary: {"graph": GRAPH},
+    isomorphisms.automorphisms: {"graph": GRAPH},
+    isomorphisms.least_form: {"graph": GRAPH},
+}
+
+# The house has no module: so another graph is the right one here.
+FORKED = (5, ((0, 1), (1, 2), (1, 3), (2, 4)))
+WITH_MODULES = {
+    substitution.taken_apart: {"graph": (InvalidGraph, FORKED, helper.NO_GRAPHS), "module": MODULE},
+}
+
+
+class Refused(unittest.TestCase):
+    def check_told(self, error, value, call):
+        with self.assertRaises(GraphError) as caught:
+            call()
+        self.assertIs(type(caught.exception), error)
+        self.assertIs(caught.exception.given, value)
+
+    def check(self, function, parameters):
+        names = list(parameters)
+        right = [right for _, right, _ in parameters.values()]
+        function(*right)
+        function(**dict(reversed(list(zip(names, right)))))
+        for at, (error, _, wrong) in enumerate(parameters.values()):
+            behind = [(good, bad[len(bad) // 2] if bad else good) for _, good, bad in list(parameters.values())[at + 1:]]
+            for value in wrong:
+                for rest in product(*behind):
+                    passed = right[:at] + [value] + list(rest)
+                    self.check_told(error, value, lambda: function(*passed))
+                    self.check_told(error, value, lambda: function(**dict(reversed(list(zip(names, passed))))))
+
+    def test_the_first_wrong_argument_is_told(self):
+        for function, parameters in list(FUNCTIONS.items()) + list(WITH_MODULES.items()):
+            with self.subTest(function.__name__):
+                self.check(function, parameters)
+
+    def test_all_wrong_values_beside_one_another(self):
+        for function, parameters in list(FUNCTIONS.items()) + list(WITH_MODULES.items()):
+            wrong_ones = [wrong for _, _, wrong in parameters.values() if wrong]
+            if len(wrong_ones) == 2 and len(parameters) == 2:
+                for at, value in enumerate(wrong_ones[0]):
+                    other = wrong_ones[1][at % len(wrong_ones[1])]
+                    self.check_told(InvalidGraph, value, lambda: function(value, other))
+
+    def test_of_a_graph_without_vertices(self):
+        none = (0, ())
+        for vertex in (0, -1, True, None):
+            self.check_told(InvalidVertex, vertex, lambda: graphs.are_adjacent(none, vertex, 0))
+            self.check_told(InvalidVertex, vertex, lambda: substitution.substituted(none, vertex, FIVE))
+        for lot in ((0,), ((),), [], None):
+            for function in (graphs.induced, cliques.is_clique, cliques.is_stable):
+                self.check_told(InvalidLot, lot, lambda: function(none, lot))
+            self.check_told(InvalidLot, lot, lambda: substitution.taken_apart(none, lot))
+            self.check_told(InvalidTimes, lot, lambda: substitution.replicated(none, lot))
+            self.check_told(InvalidTimes, lot, lambda: substitution.multiplied(none, lot))
+            self.check_told(InvalidRenaming, lot, lambda: isomorphisms.renamed(none, lot))
+        self.check_told(InvalidLot, (), lambda: substitution.taken_apart(none, ()))
+
+    def test_too_many_is_told_behind_all_others(self):
+        for function in (isomorphisms.automorphisms, isomorphisms.least_form):
+            self.check_told(InvalidGraph, (10, ()), lambda: function((10, ())))
+            self.assertRaises(TooMany, function, (8, ()))
+        for function in (substitution.union, substitution.join):
+            wrong = (9, [])
+            self.check_told(InvalidGraph, wrong, lambda: function((9, ()), wrong))
+            self.assertRaises(TooMany, function, (9, ()), (1, ()))
+
+
+class NothingChanges(unittest.TestCase):
+    def test_equal_calls_are_answered_alike(self):
+        for function, parameters in list(FUNCTIONS.items()) + list(WITH_MODULES.items()):
+            passed = [right for _, right, _ in parameters.values()]
+            kept = repr(passed)
+            told = repr(function(*passed))
+            for _ in range(2):
+                self.assertEqual(repr(function(*passed)), told)
+            self.assertEqual(repr(passed), kept)
+            self.assertNotIn("[", told)
+
+    def test_lists_and_dicts_that_are_passed_stay_as_they_are(self):
+        for function, parameters in FUNCTIONS.items():
+            if "value" in parameters:
+                for value in ([0, 1], {0: [1]}, [[0, 1], [1]], ([0],)):
+                    passed = [right for name, (_, right, _) in parameters.items() if name != "value"] + [value]
+                    kept = repr(value)
+                    self.assertIs(function(*passed), False)
+                    self.assertEqual(repr(value), kept)
+
+
+if __name__ == "__main__":
+    unittest.main()

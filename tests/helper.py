@@ -290,6 +290,30 @@ def holes_of(graph):
     return tuple(sorted(found))
 
 
+def odd_rounds_of(graph):
+    """All ("hole", HOLE) and ("antihole", HOLE) of odd length."""
+    told = [("hole", hole) for hole in holes_of(graph)] + [("antihole", hole) for hole in holes_of(opposite(graph))]
+    return [(word, hole) for word, hole in told if len(hole) % 2]
+
+
+def weights_for(many, count):
+    """Weights of so many vertices: none above 0, alike, great and small ones, the same ones each time."""
+    found = [(0,) * many, (1,) * many, (1000000,) * many, tuple(range(many))]
+    state = 77
+    while len(found) < count:
+        row = []
+        for _ in range(many):
+            state = (state * 6364136223846793005 + 1442695040888963407) % 2 ** 64
+            bound = (2, 4, 10, 1000001)[len(found) % 4]
+            row.append((state >> 33) % bound if state >> 20 & 3 else 0)
+        found.append(tuple(row))
+    return found[:count]
+
+
+def heaviest_of(graph, weights):
+    return max(sum(weights[vertex] for vertex in lot) for lot in cliques_of(graph))
+
+
 def holes_by_orders(graph):
     """All holes by trying each order of each lot."""
     lots = [lot for lot in lots_of(graph) if len(lot) >= 4]

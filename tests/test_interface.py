@@ -24,6 +24,23 @@ SIGNATURES = {
         "renaming_to": "graph other", "are_isomorphic": "graph other", "is_self_complementary": "graph",
         "automorphisms": "graph", "least_form": "graph",
     },
+    "weights": {
+        "is_cover": "graph weights value", "is_pair": "graph weights value", "heaviest_clique": "graph weights",
+        "pair": "graph weights",
+    },
+    "fractions": {
+        "fractional_number": "graph weights", "fractional_clique": "graph weights",
+        "fractional_cover": "graph weights", "is_fractional_clique": "graph value",
+        "is_fractional_cover": "graph weights value",
+    },
+    "polytopes": {
+        "is_in": "graph shares", "is_corner": "graph shares", "corners": "graph", "fractional_corner": "graph",
+    },
+    "orientations": {
+        "is_orientation": "graph value", "is_clique_acyclic": "graph orientation",
+        "clique_against": "graph orientation", "is_kernel": "graph orientation lot", "kernels": "graph orientation",
+        "against": "graph hole", "orientation_without_kernel": "graph",
+    },
     "texts": {"read_graph": "text", "print_graph": "graph", "graph6": "graph", "from_graph6": "text"},
     "holes": {
         "holes": "graph", "antiholes": "graph", "is_hole": "graph value", "is_antihole": "graph value",

@@ -5,9 +5,10 @@ from itertools import product
 
 import helper
 from helper import FIVE, HOUSE
-from perfectgraphs import cliques, graphs, isomorphisms, substitution
+from perfectgraphs import cliques, fractions, graphs, isomorphisms, orientations, polytopes, substitution, weights
 from perfectgraphs.errors import (
-    GraphError, InvalidGraph, InvalidLot, InvalidRenaming, InvalidTimes, InvalidVertex, TooMany,
+    GraphError, InvalidGraph, InvalidHole, InvalidLot, InvalidOrientation, InvalidRenaming, InvalidShares, InvalidTimes,
+    InvalidVertex, InvalidWeights, TooMany,
 )
 
 
@@ -33,6 +34,28 @@ RENAMING = (InvalidRenaming, (3, 2, 1, 0, 4), but(
     [], [3, 2, 1, 0, 4], (3, 2, 1, 0), (3, 2, 1, 0, 4, 5), (3, 2, 1, 0, 5), (3, 2, 1, 0, 0), (3, 2, True, 0, 4),
     (3, 2, 1, False, 4), (3, 2, 1, 0, "4"), (3, 2, 1, 0, None), (3, 2, 1, 0, -1), "32104", {3: 3}, (4,) * 2000,
     (helper.Odd(),) * 5))
+WEIGHTS = (InvalidWeights, (4, 1, 1, 5, 3), but(
+    [], [4, 1, 1, 5, 3], (4, 1, 1, 5), (4, 1, 1, 5, 3, 0), (4, 1, 1, 5, -1), (4, 1, 1, 5, 1000001), (10 ** 39, 0, 0, 0, 0),
+    (4, 1, 1, 5, True), (False, 1, 1, 5, 3), (4, 1, 1, 5, "3"), (4, 1, 1, 5, None), (4, 1, 1, 5, (3, 1)), "41153",
+    (4, 1, 1, 5, [3]), (0,) * 2000, (helper.Odd(),) * 5, {0: 4}, (4, 1, 1, -10 ** 39, 3)))
+REST = ((0, 1), (1, 3), (0, 1), (1, 1))
+SHARES = (InvalidShares, ((1, 2),) + REST, but(
+    [], list(((1, 2),) + REST), REST, ((1, 2), (1, 2)) + REST, ((2, 4),) + REST, ((0, 2),) + REST, ((-1, 2),) + REST,
+    ((1, -2),) + REST, ((1, 0),) + REST, ((0, 0),) + REST, ((0, -1),) + REST, ((True, 2),) + REST, ((1, True),) + REST,
+    ((False, 1),) + REST, (1,) + REST, (0,) + REST, ([1, 2],) + REST, ((1,),) + REST, ((1, 2, 3),) + REST, (None,) + REST,
+    ("1/2",) + REST, (("1", 2),) + REST, ((1, None),) + REST, (((1,), 2),) + REST, (helper.Odd(),) * 5, "00000",
+    ((helper.Odd(), 2),) + REST, ((1, helper.Odd()),) + REST, ((2, 2),) + REST, REST + ((10, 10 ** 39),), REST * 500))
+ARCS = ((0, 3), (1, 0), (1, 2), (2, 3), (2, 4), (4, 1))
+ORIENTATION = (InvalidOrientation, ARCS, but(
+    [], list(ARCS), ARCS[::-1], ARCS[1:], ARCS[:-1], ((0, 2),) + ARCS, ARCS + ((4, 4),), ((0, 0),) + ARCS, ARCS + ARCS,
+    ARCS[:1] + ARCS, ((0, 5),) + ARCS, ((-1, 0),) + ARCS, ARCS[:-1] + ((4, True),), ((False, 3),) + ARCS[1:],
+    ARCS[:-1] + ([4, 1],), ARCS[:-1] + ((4,),), ARCS[:-1] + ((4, 1, 1),), ARCS[:-1] + ("41",), ARCS[:-1] + (None,),
+    ARCS[:-1] + ((4, None),), ARCS[:-1] + ((4, (1,)),), ARCS[:-1] + (helper.Odd(),), (helper.Odd(),) * 6, {ARCS: ARCS},
+    ARCS[:-1] + ((4, helper.Odd()),), ARCS + ((4, 10 ** 39),), HOUSE, ARCS * 300))
+HOLE = (InvalidHole, (0, 1, 2, 3, 4), but(
+    [], [0, 1, 2, 3, 4], (0, 4, 3, 2, 1), (1, 2, 3, 4, 0), (0, 3, 1, 4, 2), (0, 1, 2, 3), (0, 1, 2, 3, 4, 4), (0, 1, 2, 4, 3),
+    (False, 1, 2, 3, 4), (0, True, 2, 3, 4), (0, 1, 2, 3, "4"), (0, 1, 2, 3, None), (0, 1, 2, 3, [4]), (0, 1, 2, 3, 5),
+    (0, 1, 2), "01234", ("hole", (0, 1, 2, 3, 4)), (helper.Odd(),) * 5, (0, 1, 2, 3, -1), range(5), (0, 1, 2, 3, 4) * 400))
 
 # A value, whatever it is, is never refused.
 FREE = (None, (), [])
@@ -66,12 +89,32 @@ FUNCTIONS = {
     isomorphisms.is_self_complementary: {"graph": GRAPH},
     isomorphisms.automorphisms: {"graph": GRAPH},
     isomorphisms.least_form: {"graph": GRAPH},
+    weights.is_cover: {"graph": GRAPH, "weights": WEIGHTS, "value": FREE},
+    weights.is_pair: {"graph": GRAPH, "weights": WEIGHTS, "value": FREE},
+    weights.heaviest_clique: {"graph": GRAPH, "weights": WEIGHTS},
+    weights.pair: {"graph": GRAPH, "weights": WEIGHTS},
+    fractions.fractional_number: {"graph": GRAPH, "weights": WEIGHTS},
+    fractions.fractional_clique: {"graph": GRAPH, "weights": WEIGHTS},
+    fractions.fractional_cover: {"graph": GRAPH, "weights": WEIGHTS},
+    fractions.is_fractional_clique: {"graph": GRAPH, "value": FREE},
+    fractions.is_fractional_cover: {"graph": GRAPH, "weights": WEIGHTS, "value": FREE},
+    polytopes.is_in: {"graph": GRAPH, "shares": SHARES},
+    polytopes.is_corner: {"graph": GRAPH, "shares": SHARES},
+    polytopes.corners: {"graph": GRAPH},
+    polytopes.fractional_corner: {"graph": GRAPH},
+    orientations.is_orientation: {"graph": GRAPH, "value": FREE},
+    orientations.is_clique_acyclic: {"graph": GRAPH, "orientation": ORIENTATION},
+    orientations.clique_against: {"graph": GRAPH, "orientation": ORIENTATION},
+    orientations.is_kernel: {"graph": GRAPH, "orientation": ORIENTATION, "lot": LOT},
+    orientations.kernels: {"graph": GRAPH, "orientation": ORIENTATION},
+    orientations.orientation_without_kernel: {"graph": GRAPH},
 }
 
-# The house has no module: so another graph is the right one here.
+# The house has no module and no odd hole: so other graphs are the right ones here.
 FORKED = (5, ((0, 1), (1, 2), (1, 3), (2, 4)))
-WITH_MODULES = {
+OF_OTHERS = {
     substitution.taken_apart: {"graph": (InvalidGraph, FORKED, helper.NO_GRAPHS), "module": MODULE},
+    orientations.against: {"graph": (InvalidGraph, FIVE, helper.NO_GRAPHS), "hole": HOLE},
 }
 
 
@@ -96,12 +139,12 @@ class Refused(unittest.TestCase):
                     self.check_told(error, value, lambda: function(**dict(reversed(list(zip(names, passed))))))
 
     def test_the_first_wrong_argument_is_told(self):
-        for function, parameters in list(FUNCTIONS.items()) + list(WITH_MODULES.items()):
+        for function, parameters in list(FUNCTIONS.items()) + list(OF_OTHERS.items()):
             with self.subTest(function.__name__):
                 self.check(function, parameters)
 
     def test_all_wrong_values_beside_one_another(self):
-        for function, parameters in list(FUNCTIONS.items()) + list(WITH_MODULES.items()):
+        for function, parameters in list(FUNCTIONS.items()) + list(OF_OTHERS.items()):
             wrong_ones = [wrong for _, _, wrong in parameters.values() if wrong]
             if len(wrong_ones) == 2 and len(parameters) == 2:
                 for at, value in enumerate(wrong_ones[0]):
@@ -120,10 +163,20 @@ class Refused(unittest.TestCase):
             self.check_told(InvalidTimes, lot, lambda: substitution.replicated(none, lot))
             self.check_told(InvalidTimes, lot, lambda: substitution.multiplied(none, lot))
             self.check_told(InvalidRenaming, lot, lambda: isomorphisms.renamed(none, lot))
+            for function in (weights.heaviest_clique, weights.pair, fractions.fractional_number,
+                             fractions.fractional_clique, fractions.fractional_cover):
+                self.check_told(InvalidWeights, lot, lambda: function(none, lot))
+            for function in (polytopes.is_in, polytopes.is_corner):
+                self.check_told(InvalidShares, lot, lambda: function(none, lot))
+            for function in (orientations.kernels, orientations.is_clique_acyclic, orientations.clique_against):
+                self.check_told(InvalidOrientation, lot, lambda: function(none, lot))
+            self.check_told(InvalidLot, lot, lambda: orientations.is_kernel(none, (), lot))
+            self.check_told(InvalidHole, lot, lambda: orientations.against(none, lot))
         self.check_told(InvalidLot, (), lambda: substitution.taken_apart(none, ()))
+        self.check_told(InvalidHole, (), lambda: orientations.against(none, ()))
 
     def test_too_many_is_told_behind_all_others(self):
-        for function in (isomorphisms.automorphisms, isomorphisms.least_form):
+        for function in (isomorphisms.automorphisms, isomorphisms.least_form, polytopes.corners):
             self.check_told(InvalidGraph, (10, ()), lambda: function((10, ())))
             self.assertRaises(TooMany, function, (8, ()))
         for function in (substitution.union, substitution.join):
@@ -134,7 +187,7 @@ class Refused(unittest.TestCase):
 
 class NothingChanges(unittest.TestCase):
     def test_equal_calls_are_answered_alike(self):
-        for function, parameters in list(FUNCTIONS.items()) + list(WITH_MODULES.items()):
+        for function, parameters in list(FUNCTIONS.items()) + list(OF_OTHERS.items()):
             passed = [right for _, right, _ in parameters.values()]
             kept = repr(passed)
             told = repr(function(*passed))

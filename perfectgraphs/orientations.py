@@ -54,21 +54,25 @@ def _ends_by_start(graph, arcs):
 
 def is_kernel(graph, orientation, lot):
     """Whether the lot is a kernel of the orientation."""
-    check_orientation(graph, orientation)
-    check_lot(graph, lot)
-    return is_stable(graph, lot) and _do_all_lead_to(_ends_by_start(graph, orientation), mask_of(lot))
+    return not without_arc_to(graph, orientation, lot) and is_stable(graph, lot)
 
 
 def kernels(graph, orientation):
     """The ascending tuple of all kernels of the orientation."""
     check_orientation(graph, orientation)
     ends = _ends_by_start(graph, orientation)
-    return tuple(sorted([lot_of(mask) for mask in stable_masks(graph) if _do_all_lead_to(ends, mask)]))
+    return tuple(sorted([lot_of(mask) for mask in stable_masks(graph) if not _without_end_in(ends, mask)]))
 
 
-def _do_all_lead_to(ends, mask):
-    """Whether each vertex outside the mask has an arc to one of it."""
-    return all([mask >> vertex & 1 or end & mask for vertex, end in enumerate(ends)])
+def without_arc_to(graph, orientation, lot):
+    """The vertices outside the lot that have no arc to one of it."""
+    check_orientation(graph, orientation)
+    check_lot(graph, lot)
+    return _without_end_in(_ends_by_start(graph, orientation), mask_of(lot))
+
+
+def _without_end_in(ends, mask):
+    return tuple([vertex for vertex, end in enumerate(ends) if not mask >> vertex & 1 and not end & mask])
 
 
 def against(graph, hole):

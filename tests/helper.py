@@ -1,6 +1,6 @@
 """Graphs to test with, and plain searches that share nothing with the program."""
 
-from itertools import combinations, permutations
+from itertools import combinations, combinations_with_replacement, permutations, product
 
 HOUSE = (5, ((0, 1), (0, 3), (1, 2), (1, 4), (2, 3), (2, 4)))
 FIVE = (5, ((0, 1), (0, 4), (1, 2), (2, 3), (3, 4)))
@@ -318,3 +318,235 @@ def holes_by_orders(graph):
     """All holes by trying each order of each lot."""
     lots = [lot for lot in lots_of(graph) if len(lot) >= 4]
     return tuple(sorted(way for lot in lots for way in permutations(lot) if is_round_told_well(graph, way)))
+
+
+class Draws:
+    """Numbers that look drawn, the same ones each time."""
+
+    def __init__(self, seed):
+        self.state = seed
+
+    def below(self, bound):
+        self.state = (self.state * 6364136223846793005 + 1442695040888963407) % 2 ** 64
+        return (self.state >> 33) % bound
+
+    def shuffled(self, row):
+        left = list(row)
+        return tuple(left.pop(self.below(len(left))) for _ in range(len(left)))
+
+    def some_of(self, row):
+        return tuple(value for value in row if self.below(2))
+
+
+def is_plain(value):
+    """Whether the value is built of tuples and of numbers from 0 on alone."""
+    return set(repr(value)) <= set("0123456789,() ")
+
+
+def is_right(condition, value):
+    """Whether the value is plain and the condition holds for it, without an error."""
+    try:
+        return is_plain(value) and bool(condition(value))
+    except (TypeError, ValueError):
+        return False
+
+
+SQUARE = (2, 2, ((0, 0), (0, 1), (1, 0), (1, 1)))
+NO_MULTIGRAPHS = ANY_VALUES + [
+    (10, 2, ()), (2, 10, ()), (-1, 2, ()), (2, -1, ()), (2, 2), (2, 2, (), ()), (True, 2, ()), (2, False, ()),
+    (None, 2, ()), (2, "2", ()), [2, 2, ()], (2, 2, []), (2, 2, None), (2, 2, True), (2, 2, "00"), (2, 2, {}),
+    (2, 2, {(0, 0): 1}), (2, 2, [(0, 0)]), (2, 2, ((0, 1), (0, 0))), (2, 2, ((1, 0), (0, 1))), (2, 2, ((0, 2),)),
+    (2, 2, ((2, 0),)), (2, 3, ((2, 2),)), (3, 2, ((2, 2),)), (2, 2, ((-1, 0),)), (2, 2, ((0, -1),)), (0, 2, ((0, 0),)),
+    (2, 0, ((0, 0),)), (1, 1, ((0, 0),) * 10), (2, 2, ([0, 0],)), (2, 2, ((False, 0),)), (2, 2, ((0, True),)),
+    (2, 2, ((0,),)), (2, 2, ((0, 0, 0),)), (2, 2, ((),)), (2, 2, ((0, None),)), (2, 2, (("0", "1"),)), (2, 2, (0, 1)),
+    (2, 2, ((0, (1,)),)), (2, 2, (None,)), (2, 2, ("01",)), (2, 2, ({0: 1},)), (2, 2, ((0, 0), None)),
+    (2, 2, ((0, nested(25)),)), (2, 2, ((0, Odd()),)), (Odd(), 2, ()), (2, Odd(), ()), (2, 2, Odd()), (2, 2, (Odd(),)),
+    (2, 2, ((0, 0),) * 2000), (10 ** 39, 2, ()), (2, 2, ((0, 10 ** 39),)),
+]
+
+
+def small_multigraphs():
+    """All of up to two left and two right vertices and up to three edges."""
+    found = []
+    for left in range(3):
+        for right in range(3):
+            pairs = [(one, other) for one in range(left) for other in range(right)]
+            rows = [()] + [row for size in (1, 2, 3) for row in combinations_with_replacement(pairs, size)]
+            found.extend((left, right, row) for row in rows)
+    return found
+
+
+def greater_multigraphs(count):
+    """Extreme ones, and drawn ones of up to nine edges."""
+    threes = [(one, other) for one in range(3) for other in range(3)]
+    found = [
+        SQUARE, (9, 9, ()), (0, 9, ()), (9, 0, ()), (3, 3, tuple(threes)), (1, 1, ((0, 0),) * 9), (1, 2, ((0, 0),) * 9),
+        (9, 1, tuple((at, 0) for at in range(9))), (1, 9, tuple((0, at) for at in range(9))),
+        (9, 9, tuple((at, at) for at in range(9))), (2, 2, ((0, 0),) * 4 + ((1, 1),) * 5),
+        (5, 4, tuple(sorted((at // 2, (at + 1) // 2 % 4) for at in range(9)))),
+    ]
+    draws = Draws(31)
+    while len(found) < count:
+        left, right = 1 + draws.below(5), 1 + draws.below(5)
+        edges = sorted((draws.below(left), draws.below(right)) for _ in range(draws.below(10)))
+        found.append((left, right, tuple(edges)))
+    return found
+
+
+def edges_at_of(multigraph):
+    """For each left vertex the edges at it, and for each right vertex."""
+    left, right, edges = multigraph
+    rows = [[], []]
+    for side, many in enumerate((left, right)):
+        for vertex in range(many):
+            rows[side].append([at for at in range(len(edges)) if edges[at][side] == vertex])
+    return rows
+
+
+def degree_of(multigraph):
+    return max((len(row) for side in edges_at_of(multigraph) for row in side), default=0)
+
+
+def line_graph_of(multigraph):
+    meeting = {pair for side in edges_at_of(multigraph) for row in side for pair in combinations(row, 2)}
+    return graph_with(len(multigraph[2]), meeting)
+
+
+def preferences_for(multigraph, count, seed=5):
+    """Drawn PREFERENCES of the multigraph."""
+    draws = Draws(seed)
+    return [tuple(tuple(map(draws.shuffled, side)) for side in edges_at_of(multigraph)) for _ in range(count)]
+
+
+def all_preferences(multigraph):
+    sides = [list(product(*[list(permutations(row)) for row in side])) for side in edges_at_of(multigraph)]
+    return list(product(*sides))
+
+
+def matchings_of(multigraph):
+    """All matchings, ascending."""
+    edges = multigraph[2]
+    found = []
+    for lot in lots_of((len(edges), ())):
+        ends = [(side, edges[at][side]) for at in lot for side in (0, 1)]
+        if len(set(ends)) == len(ends):
+            found.append(lot)
+    return sorted(found)
+
+
+def gives_way(preferences, edge, other):
+    """Whether the edge stands behind the other one at a vertex where both are."""
+    rows = [row for side in preferences for row in side if edge in row and other in row]
+    return any(row.index(edge) > row.index(other) for row in rows)
+
+
+def stable_matchings_of(multigraph, preferences):
+    """All matchings to one of which each edge outside gives way."""
+    found = []
+    for lot in matchings_of(multigraph):
+        outside = set(range(len(multigraph[2]))) - set(lot)
+        if all(any(gives_way(preferences, edge, inner) for inner in lot) for edge in outside):
+            found.append(lot)
+    return tuple(found)
+
+
+def lists_for(multigraph, count, seed=9):
+    """Drawn LISTS, short and long ones, of few colours and of many."""
+    draws = Draws(seed)
+    found = []
+    for at in range(count):
+        colours = range((2, 3, 4, 100)[at % 4])
+        rows = []
+        for _ in multigraph[2]:
+            many = min(draws.below((3, 4, 5, 10)[at // 4 % 4]), len(colours))
+            rows.append(tuple(sorted(draws.shuffled(colours)[:many])))
+        found.append(tuple(rows))
+    return found
+
+
+def list_colourings_of(multigraph, lists):
+    """All colourings from the lists, one after the other."""
+    near = line_graph_of(multigraph)[1]
+
+    def going_on(told):
+        if len(told) == len(lists):
+            yield told
+            return
+        barred = {told[one] for one, other in near if other == len(told)}
+        for colour in lists[len(told)]:
+            if colour not in barred:
+                yield from going_on(told + (colour,))
+
+    return going_on(())
+
+
+def led_on(graph, change):
+    """The graph behind the change; None if it does not fit. The vertices go by names meanwhile."""
+    many, edges = graph
+    kind, told = change[0], change[1:]
+    names, pairs = list("abcdefghi"[:many]), {frozenset(("abcdefghi"[one], "abcdefghi"[two])) for one, two in edges}
+    numbers = told[0] if kind == "vertex" else told
+    if any(number >= many for number in numbers) or (kind == "vertex" and many == 9):
+        return None
+    called = [names[number] for number in numbers]
+    if kind == "vertex":
+        names.append("new")
+        pairs |= {frozenset((name, "new")) for name in called}
+    elif kind == "out":
+        names.remove(called[0])
+        pairs = {pair for pair in pairs if called[0] not in pair}
+    elif (frozenset(called) in pairs) == (kind == "edge"):
+        return None
+    else:
+        pairs ^= {frozenset(called)}
+    return graph_with(len(names), [[names.index(name) for name in pair] for pair in pairs])
+
+
+def all_changes():
+    lots = lots_of((9, ()))
+    pairs = all_pairs(9)
+    return ([("vertex", lot) for lot in lots] + [("out", vertex) for vertex in range(9)]
+            + [("edge",) + pair for pair in pairs] + [("cut",) + pair for pair in pairs])
+
+
+def drawn_changes(count, seed=3):
+    """Changes of all kinds, few of vertices beyond those of a graph of some vertices."""
+    draws = Draws(seed)
+    found = []
+    for _ in range(count):
+        kind = ("vertex", "vertex", "out", "edge", "edge", "edge", "cut", "cut")[draws.below(8)]
+        bound = 2 + draws.below(8)
+        one, two = sorted(draws.shuffled(range(bound))[:2])
+        found.append({
+            "vertex": ("vertex", draws.some_of(range(bound - 1))), "out": ("out", draws.below(bound)),
+            "edge": ("edge", one, two), "cut": ("cut", one, two),
+        }[kind])
+    return found
+
+
+def drawn_log(count, seed=3):
+    """(LOG, GRAPHS): of so many changes that fit one another, and the graphs behind each."""
+    graph, log, graphs = (0, ()), [], [(0, ())]
+    for change in drawn_changes(40 * count + 400, seed):
+        behind = led_on(graph, change)
+        if behind is not None and len(log) < count:
+            log.append(change)
+            graphs.append(behind)
+            graph = behind
+    assert len(log) == count
+    return tuple(log), graphs
+
+
+def cutsets_of(graph):
+    """All clique cutsets: each vertex put into one of the three, in all ways."""
+    many, edges = graph
+    found = []
+    for sides in product(range(3), repeat=many):
+        lots = tuple(tuple(vertex for vertex in range(many) if sides[vertex] == side) for side in range(3))
+        if not lots[1] or not lots[2] or lots[1][0] > lots[2][0]:
+            continue
+        if any({sides[one], sides[two]} == {1, 2} for one, two in edges):
+            continue
+        if all(pair in edges for pair in combinations(lots[0], 2)):
+            found.append(lots)
+    return sorted(found)

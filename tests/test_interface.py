@@ -41,6 +41,23 @@ SIGNATURES = {
         "clique_against": "graph orientation", "is_kernel": "graph orientation lot", "kernels": "graph orientation",
         "against": "graph hole", "orientation_without_kernel": "graph",
     },
+    "multigraphs": {
+        "is_multigraph": "value", "greatest_degree": "multigraph", "line_graph": "multigraph",
+        "is_edge_colouring": "multigraph value", "edge_colouring": "multigraph",
+    },
+    "matchings": {
+        "is_preferences": "multigraph value", "orientation_of": "multigraph preferences",
+        "is_stable_matching": "multigraph preferences matching", "stable_matchings": "multigraph preferences",
+        "best_matching": "multigraph preferences", "better_of": "multigraph preferences one other",
+    },
+    "lists": {
+        "is_lists": "multigraph value", "is_from_lists": "multigraph lists value", "list_colouring": "multigraph lists",
+        "colours_by": "multigraph preferences lists", "galvin_preferences": "multigraph colours",
+    },
+    "changes": {
+        "is_change": "value", "changed": "graph change", "graph_of": "log", "log_of": "graph",
+        "is_clique_cutset": "graph value", "clique_cutset": "graph", "parts_of": "graph cutset",
+    },
     "texts": {"read_graph": "text", "print_graph": "graph", "graph6": "graph", "from_graph6": "text"},
     "holes": {
         "holes": "graph", "antiholes": "graph", "is_hole": "graph value", "is_antihole": "graph value",

@@ -5,10 +5,14 @@ from itertools import product
 
 import helper
 from helper import FIVE, HOUSE
-from perfectgraphs import cliques, fractions, graphs, isomorphisms, orientations, polytopes, substitution, weights
+from perfectgraphs import (
+    changes, cliques, fractions, graphs, isomorphisms, lists, matchings, multigraphs, orientations, polytopes, substitution,
+    weights,
+)
 from perfectgraphs.errors import (
-    GraphError, InvalidGraph, InvalidHole, InvalidLot, InvalidOrientation, InvalidRenaming, InvalidShares, InvalidTimes,
-    InvalidVertex, InvalidWeights, TooMany,
+    GraphError, InvalidChange, InvalidColours, InvalidCutset, InvalidGraph, InvalidHole, InvalidLists, InvalidLot,
+    InvalidMatching, InvalidMultigraph, InvalidOrientation, InvalidPreferences, InvalidRenaming, InvalidShares,
+    InvalidTimes, InvalidVertex, InvalidWeights, TooMany, Unfit,
 )
 
 
@@ -56,6 +60,42 @@ HOLE = (InvalidHole, (0, 1, 2, 3, 4), but(
     [], [0, 1, 2, 3, 4], (0, 4, 3, 2, 1), (1, 2, 3, 4, 0), (0, 3, 1, 4, 2), (0, 1, 2, 3), (0, 1, 2, 3, 4, 4), (0, 1, 2, 4, 3),
     (False, 1, 2, 3, 4), (0, True, 2, 3, 4), (0, 1, 2, 3, "4"), (0, 1, 2, 3, None), (0, 1, 2, 3, [4]), (0, 1, 2, 3, 5),
     (0, 1, 2), "01234", ("hole", (0, 1, 2, 3, 4)), (helper.Odd(),) * 5, (0, 1, 2, 3, -1), range(5), (0, 1, 2, 3, 4) * 400))
+
+MULTIGRAPH = (InvalidMultigraph, helper.SQUARE, helper.NO_MULTIGRAPHS)
+COLOURS = (InvalidColours, (0, 1, 1, 0), but(
+    [], [0, 1, 1, 0], (0, 1, 1), (0, 1, 1, 0, 0), (0, 1, 1, 1), (0, 0, 1, 1), (0, 2, 2, 0), (0, 1, 2, 0), (0, -1, -1, 0),
+    (False, 1, 1, 0), (0, True, 1, 0), (0, 1, 1, "0"), (0, 1, 1, None), (0, 1, 1, (0,)), "0110", (helper.Odd(),) * 4,
+    (0, 1, 1, helper.Odd()), (0, 1, 10 ** 39, 0), (0, 1, 1, 0) * 500, {0: 1}))
+PREFERENCES = (InvalidPreferences, (((0, 1), (3, 2)), ((2, 0), (1, 3))), but(
+    [], ((0, 1), (3, 2)), (((0, 1), (3, 2)), ((2, 0), (1, 3)), ()), (((0, 1), (3, 2)), ((2, 0), (1, 1))),
+    (((0, 1), (3, 2)), ((2, 0), (1,))), (((0, 1), (3, 2)), ((2, 0), (1, 2))), [((0, 1), (3, 2)), ((2, 0), (1, 3))],
+    ([(0, 1), (3, 2)], ((2, 0), (1, 3))), (((0, 1), [3, 2]), ((2, 0), (1, 3))), (((0, True), (3, 2)), ((2, 0), (1, 3))),
+    (((False, 1), (3, 2)), ((2, 0), (1, 3))), (((0, 1), (3, "2")), ((2, 0), (1, 3))), (((0, 1), (3, 2)), None),
+    (((0, 1), None), ((2, 0), (1, 3))), (((0, 1), (3, None)), ((2, 0), (1, 3))), (((0, 1), (3, (2,))), ((2, 0), (1, 3))),
+    (helper.Odd(),) * 2, (((0, 1), (3, 2)), (helper.Odd(),) * 2), (((0, 1), (3, helper.Odd())), ((2, 0), (1, 3))),
+    (((0, 1), (3, 4)), ((2, 0), (1, 3))), (((0, 1, 1), (3, 2)), ((2, 0), (1, 3))), (((), ()), ((), ())), "0132"))
+MATCHING = (InvalidMatching, (0, 3), but(
+    [(), (0,), (0, 3), (1, 2)], [0, 3], (3, 0), (0, 1), (0, 2), (0, 0), (0, 4), (-1, 3), (False, 3), (0, True), ("0",), (0, None),
+    (0, (3,)), (0, 1, 2, 3), (0, 10 ** 39), (0, helper.Odd()), (helper.Odd(),), (0,) * 2000, "03"))
+LISTS = (InvalidLists, ((0,), (0, 1), (0, 1), (1, 99)), but(
+    [], [(0,), (0, 1), (0, 1), (1, 99)], ((0,),) * 3, ((0,),) * 5, ((0,), (1, 0), (0, 1), (1,)), ((0,), (0, 0), (0,), (1,)),
+    ((0,), (0, 1), (0, 1), (1, 100)), ((-1,), (0, 1), (0, 1), (1,)), (tuple(range(10)),) * 4, ([0], (0, 1), (0, 1), (1,)),
+    ((False,), (0, 1), (0, 1), (1,)), ((0,), (0, True), (0, 1), (1,)), ((0,), (0, 1), (0, 1), ("1",)), (0, 1, 1, 0),
+    ((0,), (0, 1), (0, 1), (None,)), ((0,), (0, 1), (0, 1), None), ((0,), (0, 1), (0, 1), "1"), (helper.Odd(),) * 4,
+    ((helper.Odd(),),) * 4, ((0, helper.Odd()), (0,), (0,), (0,)), ((0,), (0, 1), (0, 1), (10 ** 39,)), ((0,),) * 2000, ["0"] * 4))
+CHANGE = (InvalidChange, ("cut", 1, 2), but(
+    [], ["cut", 1, 2], ("cut", 2, 1), ("cut", 1, 1), ("cut", 1), ("cut", 1, 2, 3), ("cut", 1, 9), ("cut", -1, 2), ("cut", True, 2),
+    ("cut", 1, "2"), ("cut", 1, None), ("cut", (1, 2)), ("edge", 2, 0), ("edge", 0), ("out",), ("out", 9), ("out", -1), ("out", True),
+    ("out", (0,)), ("out", 0, 1), ("vertex",), ("vertex", 0), ("vertex", [0]), ("vertex", (1, 0)), ("vertex", (0, 0)),
+    ("vertex", (9,)), ("vertex", (False,)), ("vertex", (), ()), ("vertex", "0"), ("vertex", (None,)), ("turn", 0, 1), ("Cut", 1, 2),
+    (b"cut", 1, 2), (helper.Odd(), 1, 2), ("cut", 1, helper.Odd()), ("vertex", helper.Odd()), ("vertex", (helper.Odd(),)),
+    ("out", 10 ** 39), ("vertex", (0,) * 2000), "cut", (("cut",), 1, 2)))
+CUTSET = (InvalidCutset, ((1, 2), (0, 3), (4,)), but(
+    [], [(1, 2), (0, 3), (4,)], ((1, 2), (4,), (0, 3)), ((1, 2), (0, 3)), ((1, 2), (0, 3), (4,), ()), ((2, 1), (0, 3), (4,)),
+    ((), (0, 1, 2, 3), (4,)), ((0, 2), (1,), (3, 4)), ((1, 2), (0, 3), ()), ((1, 2), (0,), (4,)), ((1, 2), (0, 3), (3, 4)),
+    ((1, 2), (0, 3), [4]), ((True, 2), (0, 3), (4,)), ((1, 2), (False, 3), (4,)), ((1, 2), (0, 3), ("4",)), "abc",
+    ((1, 2), (0, 3), (None,)), ((1, 2), (0, 3), None), (helper.Odd(),) * 3, ((1, 2), (0, 3), (helper.Odd(),)),
+    ((1, 2), (0, 3), (5,)), ((1, 2), (0, 3), (10 ** 39,)), ((1, 2), (0, 3), (4,) * 2000), ((1, 2, 4), (0,), (3,))))
 
 # A value, whatever it is, is never refused.
 FREE = (None, (), [])
@@ -108,6 +148,26 @@ FUNCTIONS = {
     orientations.is_kernel: {"graph": GRAPH, "orientation": ORIENTATION, "lot": LOT},
     orientations.kernels: {"graph": GRAPH, "orientation": ORIENTATION},
     orientations.orientation_without_kernel: {"graph": GRAPH},
+    multigraphs.greatest_degree: {"multigraph": MULTIGRAPH},
+    multigraphs.line_graph: {"multigraph": MULTIGRAPH},
+    multigraphs.is_edge_colouring: {"multigraph": MULTIGRAPH, "value": FREE},
+    multigraphs.edge_colouring: {"multigraph": MULTIGRAPH},
+    matchings.is_preferences: {"multigraph": MULTIGRAPH, "value": FREE},
+    matchings.orientation_of: {"multigraph": MULTIGRAPH, "preferences": PREFERENCES},
+    matchings.is_stable_matching: {"multigraph": MULTIGRAPH, "preferences": PREFERENCES, "matching": MATCHING},
+    matchings.stable_matchings: {"multigraph": MULTIGRAPH, "preferences": PREFERENCES},
+    matchings.best_matching: {"multigraph": MULTIGRAPH, "preferences": PREFERENCES},
+    matchings.better_of: {"multigraph": MULTIGRAPH, "preferences": PREFERENCES, "one": MATCHING, "other": MATCHING},
+    lists.is_lists: {"multigraph": MULTIGRAPH, "value": FREE},
+    lists.is_from_lists: {"multigraph": MULTIGRAPH, "lists": LISTS, "value": FREE},
+    lists.list_colouring: {"multigraph": MULTIGRAPH, "lists": LISTS},
+    lists.colours_by: {"multigraph": MULTIGRAPH, "preferences": PREFERENCES, "lists": LISTS},
+    lists.galvin_preferences: {"multigraph": MULTIGRAPH, "colours": COLOURS},
+    changes.changed: {"graph": GRAPH, "change": CHANGE},
+    changes.log_of: {"graph": GRAPH},
+    changes.is_clique_cutset: {"graph": GRAPH, "value": FREE},
+    changes.clique_cutset: {"graph": GRAPH},
+    changes.parts_of: {"graph": GRAPH, "cutset": CUTSET},
 }
 
 # The house has no module and no odd hole: so other graphs are the right ones here.
@@ -149,7 +209,8 @@ class Refused(unittest.TestCase):
             if len(wrong_ones) == 2 and len(parameters) == 2:
                 for at, value in enumerate(wrong_ones[0]):
                     other = wrong_ones[1][at % len(wrong_ones[1])]
-                    self.check_told(InvalidGraph, value, lambda: function(value, other))
+                    error = list(parameters.values())[0][0]
+                    self.check_told(error, value, lambda: function(value, other))
 
     def test_of_a_graph_without_vertices(self):
         none = (0, ())
@@ -172,8 +233,22 @@ class Refused(unittest.TestCase):
                 self.check_told(InvalidOrientation, lot, lambda: function(none, lot))
             self.check_told(InvalidLot, lot, lambda: orientations.is_kernel(none, (), lot))
             self.check_told(InvalidHole, lot, lambda: orientations.against(none, lot))
+            self.check_told(InvalidCutset, lot, lambda: changes.parts_of(none, lot))
+            self.check_told(InvalidChange, lot, lambda: changes.changed(none, lot))
+        for change in (("out", 0), ("edge", 0, 1), ("cut", 0, 1), ("vertex", (0,))):
+            self.check_told(Unfit, change, lambda: changes.changed(none, change))
         self.check_told(InvalidLot, (), lambda: substitution.taken_apart(none, ()))
         self.check_told(InvalidHole, (), lambda: orientations.against(none, ()))
+
+    def test_of_a_multigraph_without_edges(self):
+        none = (1, 0, ())
+        for value in ((0,), ((),), [], None, ((), ()), (((),),), (((),), ((),)), ((), ((),))):
+            self.check_told(InvalidColours, value, lambda: lists.galvin_preferences(none, value))
+            self.check_told(InvalidLists, value, lambda: lists.list_colouring(none, value))
+            self.check_told(InvalidMatching, value, lambda: matchings.is_stable_matching(none, (((),), ()), value))
+            for function in (matchings.orientation_of, matchings.stable_matchings, matchings.best_matching):
+                self.check_told(InvalidPreferences, value, lambda: function(none, value))
+        self.assertEqual(matchings.stable_matchings(none, (((),), ())), ((),))
 
     def test_too_many_is_told_behind_all_others(self):
         for function in (isomorphisms.automorphisms, isomorphisms.least_form, polytopes.corners):

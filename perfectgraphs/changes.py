@@ -78,6 +78,15 @@ def graph_of(log):
     return graph
 
 
+def is_log(value):
+    """Whether the value, whatever it is, is a LOG."""
+    try:
+        graph_of(value)
+    except InvalidLog:
+        return False
+    return True
+
+
 def log_of(graph):
     """The log of vertices alone that leads to the graph, each adjacent to those of lesser numbers."""
     check_graph(graph)

@@ -4,7 +4,7 @@ from perfectgraphs.cliques import stable_sets
 from perfectgraphs.errors import InvalidShares
 from perfectgraphs.graphs import check_graph
 from perfectgraphs.linear import best_shares
-from perfectgraphs.rationals import ZERO, is_fraction_from_zero, is_up_to, total
+from perfectgraphs.rationals import ZERO, is_fraction_from_zero, is_up_to, lowest_terms, total
 from perfectgraphs.weights import are_parts, check_weights
 
 
@@ -30,6 +30,11 @@ def are_up_to_one(shares, lots):
 def sum_over(shares, lot):
     """What the shares of the lot's vertices come to."""
     return total([shares[vertex] for vertex in lot])
+
+
+def worth_of(shares, weights):
+    """The sum of the products of weights and shares."""
+    return total([lowest_terms(n * weight, m) for (n, m), weight in zip(shares, weights)])
 
 
 def fractional_number(graph, weights):

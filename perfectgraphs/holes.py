@@ -75,7 +75,10 @@ def is_antihole(graph, value):
 
 
 def odd_one(graph):
-    """Any ("hole", HOLE) or ("antihole", HOLE) with a HOLE of odd length; None if there is none."""
+    """Any ("hole", HOLE) or ("antihole", HOLE) with a HOLE of odd length; None if there is none.
+
+    It is the first odd hole, or, where there is none, the first odd antihole.
+    """
     for hole in holes(graph):
         if len(hole) % 2 == 1:
             return ("hole", hole)

@@ -1,9 +1,9 @@
 """ORIENTATIONs of the edges, and their kernels."""
 
-from perfectgraphs.cliques import clique_masks, is_stable, stable_masks
+from perfectgraphs.cliques import clique_masks, is_clique, is_stable, stable_masks
 from perfectgraphs.errors import InvalidHole, InvalidOrientation
-from perfectgraphs.graphs import check_graph, check_lot, is_ascending, is_vertex_pair, lot_of, mask_of
-from perfectgraphs.graphs import neighbour_masks, ordered
+from perfectgraphs.graphs import check_graph, check_lot, is_ascending, is_lot, is_vertex_pair, lot_of
+from perfectgraphs.graphs import mask_of, neighbour_masks, ordered
 from perfectgraphs.holes import is_antihole, is_hole, odd_one
 
 # The arcs on a round, from place to place, counted on from each of its places.
@@ -36,12 +36,26 @@ def is_clique_acyclic(graph, orientation):
 def clique_against(graph, orientation):
     """Any clique other than () without a vertex to which all others of it have an arc; None."""
     check_orientation(graph, orientation)
-    starts = _ends_by_start(graph, [(end, start) for start, end in orientation])
     for mask in clique_masks(neighbour_masks(graph)):
         lot = lot_of(mask)
-        if lot and not any([(starts[vertex] | 1 << vertex) & mask == mask for vertex in lot]):
+        if lot and not _ends_of_all(graph, orientation, lot):
             return lot
     return None
+
+
+def is_clique_against(graph, orientation, value):
+    """Whether the value, whatever it is, is a clique as clique_against tells."""
+    check_orientation(graph, orientation)
+    if not is_lot(graph, value) or not value:
+        return False
+    return is_clique(graph, value) and not _ends_of_all(graph, orientation, value)
+
+
+def _ends_of_all(graph, orientation, lot):
+    """The vertices of the lot to which all others of it have an arc."""
+    starts = _ends_by_start(graph, [(end, start) for start, end in orientation])
+    whole = mask_of(lot)
+    return [vertex for vertex in lot if (starts[vertex] | 1 << vertex) & whole == whole]
 
 
 def _ends_by_start(graph, arcs):

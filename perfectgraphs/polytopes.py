@@ -30,6 +30,11 @@ def is_corner(graph, shares):
     return rank(_rows(tight, above)) == len(above)
 
 
+def are_whole(shares):
+    """Whether the shares are 0 and 1 alone."""
+    return all([share in (ZERO, ONE) for share in shares])
+
+
 def _rows(lots, vertices):
     """For each lot a row that tells which of the vertices it has."""
     return [[1 if vertex in lot else 0 for vertex in vertices] for lot in lots]

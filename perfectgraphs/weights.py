@@ -9,12 +9,17 @@ from perfectgraphs.perfection import is_perfect
 MOST_WEIGHT = 1000000
 
 
+def are_weights(graph, value):
+    """Whether the value, whatever it is, are WEIGHTS of the GRAPH."""
+    if type(value) is not tuple or len(value) != graph[0]:
+        return False
+    return all([is_whole(weight, 0, MOST_WEIGHT) for weight in value])
+
+
 def check_weights(graph, weights):
     """Refuses what is no GRAPH, then what are no WEIGHTS of it."""
     check_graph(graph)
-    if type(weights) is not tuple or len(weights) != graph[0]:
-        raise InvalidWeights(weights)
-    if not all([is_whole(weight, 0, MOST_WEIGHT) for weight in weights]):
+    if not are_weights(graph, weights):
         raise InvalidWeights(weights)
 
 

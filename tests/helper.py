@@ -1,6 +1,8 @@
 """Graphs to test with, and plain searches that share nothing with the program."""
 
+from fractions import Fraction
 from itertools import combinations, combinations_with_replacement, permutations, product
+from math import gcd
 
 HOUSE = (5, ((0, 1), (0, 3), (1, 2), (1, 4), (2, 3), (2, 4)))
 FIVE = (5, ((0, 1), (0, 4), (1, 2), (2, 3), (3, 4)))
@@ -41,8 +43,10 @@ NO_GRAPHS = ANY_VALUES + [
 
 
 def bent(value):
-    """Values that differ from this one, of tuples and numbers, at one place, at any depth."""
+    """Values that differ from this one, of tuples, numbers and texts, at one place, at any depth."""
     if type(value) is not tuple:
+        if type(value) is str:
+            return [value + " ", value.upper(), value[1:], value[:-1], "", value.encode(), (value,), [value], Odd(), None, 0]
         others = [
             value + 1, value - 1, -value, bool(value), True, False, str(value), None, (value,), [value], 10 ** 39,
             -10 ** 39, Odd(), (value, 1), {value: value},
@@ -550,3 +554,207 @@ def cutsets_of(graph):
         if all(pair in edges for pair in combinations(lots[0], 2)):
             found.append(lots)
     return sorted(found)
+
+
+def is_cover_told(graph, weights, value):
+    """Whether the value is a COVER of the weights, word by word as the document tells it."""
+    if type(value) is not tuple or any(type(part) is not tuple or len(part) != 2 for part in value):
+        return False
+    stable = stable_sets_of(graph)[1:]
+    if not all(is_among(lot, stable) and type(times) is int and times > 0 for lot, times in value):
+        return False
+    lots = [lot for lot, _ in value]
+    if lots != sorted(set(lots)):
+        return False
+    return all(sum(times for lot, times in value if vertex in lot) >= weights[vertex] for vertex in range(graph[0]))
+
+
+def is_pair_told(graph, weights, value):
+    if type(value) is not tuple or len(value) != 2:
+        return False
+    clique, cover = value
+    if not is_among(clique, cliques_of(graph)) or not is_cover_told(graph, weights, cover):
+        return False
+    return sum(weights[vertex] for vertex in clique) == sum(times for _, times in cover)
+
+
+def as_told(number):
+    """The number as the document tells fractions."""
+    return (Fraction(number).numerator, Fraction(number).denominator)
+
+
+def is_fraction(value):
+    if type(value) is not tuple or len(value) != 2 or any(type(part) is not int for part in value):
+        return False
+    return value[1] > 0 and gcd(*value) == 1
+
+
+def are_shares_told(graph, value):
+    if type(value) is not tuple or len(value) != graph[0]:
+        return False
+    return all(is_fraction(share) and share[0] >= 0 for share in value)
+
+
+def is_fractional_clique_told(graph, value):
+    """Whether the value is a fractional clique: each stable set is looked at, not the maximal ones alone."""
+    if not are_shares_told(graph, value):
+        return False
+    return all(sum(Fraction(*value[vertex]) for vertex in lot) <= 1 for lot in stable_sets_of(graph))
+
+
+def is_fractional_cover_told(graph, weights, value):
+    if type(value) is not tuple or any(type(part) is not tuple or len(part) != 2 for part in value):
+        return False
+    stable = stable_sets_of(graph)[1:]
+    if not all(is_among(lot, stable) and is_fraction(times) and times[0] > 0 for lot, times in value):
+        return False
+    lots = [lot for lot, _ in value]
+    if lots != sorted(set(lots)):
+        return False
+    covered = [sum(Fraction(*times) for lot, times in value if vertex in lot) for vertex in range(graph[0])]
+    return all(sums >= weight for sums, weight in zip(covered, weights))
+
+
+def on(graph, lot, share=(1, 1)):
+    """The SHARES that are this one on the lot and 0 elsewhere."""
+    return tuple(share if vertex in lot else (0, 1) for vertex in range(graph[0]))
+
+
+def solved(rows):
+    """The only solution of the equations, each a row with its sum behind it; None for none or several."""
+    rows = [[Fraction(number) for number in row] for row in rows]
+    width = len(rows[0]) - 1 if rows else 0
+    done = 0
+    for at in range(width):
+        pivot = next((place for place in range(done, len(rows)) if rows[place][at]), None)
+        if pivot is None:
+            return None
+        rows[done], rows[pivot] = rows[pivot], rows[done]
+        rows[done] = [number / rows[done][at] for number in rows[done]]
+        for place, row in enumerate(rows):
+            if place != done and row[at]:
+                rows[place] = [one - row[at] * two for one, two in zip(row, rows[done])]
+        done += 1
+    if any(row[-1] for row in rows[done:]):
+        return None
+    return [row[-1] for row in rows[:done]]
+
+
+def equations_of(graph):
+    """Share 0 for each vertex, sum 1 over each maximal clique."""
+    many = graph[0]
+    zeros = [[int(at == vertex) for at in range(many)] + [0] for vertex in range(many)]
+    lots = maximal_of(cliques_of(graph))
+    return zeros + [[int(at in lot) for at in range(many)] + [1] for lot in lots if lot]
+
+
+def is_in_told(graph, shares):
+    """Each clique is looked at, not the maximal ones alone."""
+    return all(sum(Fraction(*shares[vertex]) for vertex in lot) <= 1 for lot in cliques_of(graph))
+
+
+def is_corner_told(graph, shares):
+    if not is_in_told(graph, shares):
+        return False
+    numbers = [Fraction(*share) for share in shares]
+    kept = [row for row in equations_of(graph) if sum(one * two for one, two in zip(row, numbers)) == row[-1]]
+    return solved(kept) == numbers if graph[0] else True
+
+
+def corners_told(graph):
+    """By all choices of as many equations as there are vertices."""
+    found = set()
+    for chosen in combinations(equations_of(graph), graph[0]):
+        numbers = solved(list(chosen))
+        if numbers is not None and min(numbers, default=0) >= 0:
+            shares = tuple(as_told(number) for number in numbers)
+            if shares not in found and is_in_told(graph, shares):
+                found.add(shares)
+    return tuple(sorted(found, key=lambda shares: [Fraction(*share) for share in shares]))
+
+
+def all_orientations(graph):
+    ways = [[((one, two),), ((two, one),), ((one, two), (two, one))] for one, two in graph[1]]
+    return [tuple(sorted(sum(chosen, ()))) for chosen in product(*ways)]
+
+
+def some_orientations(graph, count):
+    """Orientations of all kinds, the same ones each time: the first ones lead back nowhere."""
+    found, state = [], 4711
+    for at in range(count):
+        order = shuffles(graph[0], at + 1)[at]
+        arcs = []
+        for one, two in graph[1]:
+            state = (state * 6364136223846793005 + 1442695040888963407) % 2 ** 64
+            first, last = sorted((one, two), key=lambda vertex: order[vertex])
+            turn = (state >> 40) % 8 if at >= count // 3 else 7
+            arcs.extend({0: [(last, first)], 1: [(first, last), (last, first)]}.get(turn, [(first, last)]))
+        found.append(tuple(sorted(arcs)))
+    return found
+
+
+def is_against(graph, arcs, lot):
+    """Whether no vertex of the clique has arcs from all others of it."""
+    return not any(all((other, vertex) in arcs for other in lot if other != vertex) for vertex in lot)
+
+
+def cliques_against(graph, arcs):
+    return [lot for lot in cliques_of(graph)[1:] if is_against(graph, set(arcs), lot)]
+
+
+def kernels_told(graph, arcs):
+    """Each lot is looked at, arc by arc."""
+    pairs = set(arcs)
+    found = []
+    for lot in lots_of(graph):
+        if any((one, two) in pairs or (two, one) in pairs for one in lot for two in lot):
+            continue
+        outside = [vertex for vertex in range(graph[0]) if vertex not in lot]
+        if all(any((vertex, inner) in pairs for inner in lot) for vertex in outside):
+            found.append(lot)
+    return tuple(sorted(found))
+
+
+def against_told(graph, hole):
+    """The arcs against the hole, word by word as the document tells them."""
+    many, edges = graph
+    size = len(hole)
+    arcs = set()
+    for at in range(size):
+        def place(steps):
+            return hole[(at + steps) % size]
+        if tuple(sorted(hole[:2])) in edges:
+            arcs.add((place(0), place(1)))
+        elif size == 5:
+            arcs.add((place(0), place(2)))
+        elif size == 7:
+            arcs |= {(place(0), place(2)), (place(3), place(0))}
+        else:
+            arcs |= {(place(0), place(2)), (place(0), place(4)), (place(0), place(3)), (place(3), place(0))}
+    for vertex in set(range(many)) - set(hole):
+        for other in range(many):
+            if (min(vertex, other), max(vertex, other)) in edges and (other in hole or other < vertex):
+                arcs.add((vertex, other))
+    return tuple(sorted(arcs))
+
+
+def cover_of_size(graph, weights, size):
+    """A COVER of the weights, which are small, of just this size, by a search; None."""
+    stable = maximal_of(stable_sets_of(graph))
+
+    def search(left, most):
+        vertex = next((at for at, weight in enumerate(left) if weight > 0), None)
+        if vertex is None or not most:
+            return [] if vertex is None else None
+        for lot in stable:
+            if vertex in lot:
+                rest = search(tuple(weight - (at in lot) for at, weight in enumerate(left)), most - 1)
+                if rest is not None:
+                    return [lot] + rest
+        return None
+
+    found = search(tuple(weights), size)
+    if found is None or (found == [] and size):
+        return None
+    found.extend(found[:1] * (size - len(found)))
+    return tuple((lot, found.count(lot)) for lot in sorted(set(found)))

@@ -34,7 +34,7 @@ def bound_names(tree):
             names.add(node.arg)
         elif isinstance(node, ast.Name) and isinstance(node.ctx, ast.Store):
             names.add(node.id)
-        elif isinstance(node, ast.alias):
+        elif isinstance(node, (ast.alias, ast.ExceptHandler)):
             names.add(node.name)
     return names
 

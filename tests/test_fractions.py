@@ -1,9 +1,10 @@
 import unittest
 from fractions import Fraction
-from math import gcd
 
 import helper
-from helper import DOUBLED, FIVE, HOUSE
+from helper import DOUBLED, FIVE, HOUSE, is_fraction
+from helper import as_told as told, is_fractional_clique_told as is_clique_told
+from helper import is_fractional_cover_told as is_cover_told
 from perfectgraphs.fractions import (
     fractional_clique, fractional_cover, fractional_number, is_fractional_clique, is_fractional_cover,
 )
@@ -14,43 +15,6 @@ MANY_GRAPHS = (
 )
 ONES = (1, 1, 1, 1, 1)
 HALF = ((1, 2),) * 5
-
-
-def told(number):
-    """The number as the document tells fractions."""
-    return (Fraction(number).numerator, Fraction(number).denominator)
-
-
-def is_fraction(value):
-    if type(value) is not tuple or len(value) != 2 or any(type(part) is not int for part in value):
-        return False
-    return value[1] > 0 and gcd(*value) == 1
-
-
-def are_shares_told(graph, value):
-    if type(value) is not tuple or len(value) != graph[0]:
-        return False
-    return all(is_fraction(share) and share[0] >= 0 for share in value)
-
-
-def is_clique_told(graph, value):
-    """Whether the value is a fractional clique: each stable set is looked at, not the maximal ones alone."""
-    if not are_shares_told(graph, value):
-        return False
-    return all(sum(Fraction(*value[vertex]) for vertex in lot) <= 1 for lot in helper.stable_sets_of(graph))
-
-
-def is_cover_told(graph, weights, value):
-    if type(value) is not tuple or any(type(part) is not tuple or len(part) != 2 for part in value):
-        return False
-    stable = helper.stable_sets_of(graph)[1:]
-    if not all(helper.is_among(lot, stable) and is_fraction(times) and times[0] > 0 for lot, times in value):
-        return False
-    lots = [lot for lot, _ in value]
-    if lots != sorted(set(lots)):
-        return False
-    covered = [sum(Fraction(*times) for lot, times in value if vertex in lot) for vertex in range(graph[0])]
-    return all(sums >= weight for sums, weight in zip(covered, weights))
 
 
 class Session(unittest.TestCase):

@@ -4,6 +4,8 @@ import inspect
 import unittest
 from importlib import import_module
 
+from perfectgraphs.books import Book
+
 SIGNATURES = {
     "graphs": {
         "is_graph": "value", "is_lot": "graph value", "are_adjacent": "graph one other", "complement": "graph",
@@ -58,6 +60,15 @@ SIGNATURES = {
         "is_change": "value", "changed": "graph change", "graph_of": "log", "log_of": "graph",
         "is_clique_cutset": "graph value", "clique_cutset": "graph", "parts_of": "graph cutset",
     },
+    "checker": {"accepts": "claim paper"},
+    "certificates": {
+        "certify_perfect": "graph", "certify_weight": "graph weights", "certify_fractional": "graph weights",
+        "certify_colours": "graph many", "certify_corner": "graph shares", "certify_isomorphic": "graph other",
+        "certify_acyclic": "graph orientation", "certify_kernel": "graph orientation",
+        "certify_stable": "multigraph preferences matching", "certify_lists": "multigraph lists",
+        "certify_cutset": "graph", "certify_led": "log",
+    },
+    "console": {"fresh_console": "", "said": "console line", "told_all": "console lines"},
     "texts": {"read_graph": "text", "print_graph": "graph", "graph6": "graph", "from_graph6": "text"},
     "holes": {
         "holes": "graph", "antiholes": "graph", "is_hole": "graph value", "is_antihole": "graph value",
@@ -68,8 +79,18 @@ SIGNATURES = {
     },
 }
 
+METHODS = {"do": "self change", "undo": "self", "trial": "self", "tried": "self action", "__len__": "self", "__init__": "self"}
+
 
 class Interface(unittest.TestCase):
+    def test_the_class_of_books_and_its_methods(self):
+        self.assertEqual(Book.__module__, "perfectgraphs.books")
+        for name, parameters in METHODS.items():
+            told = inspect.signature(vars(Book)[name]).parameters.values()
+            self.assertEqual([parameter.name for parameter in told], parameters.split())
+            for parameter in told:
+                self.assertIs(parameter.default, parameter.empty)
+
     def test_each_function_stands_in_its_file_with_its_parameters(self):
         for module_name, functions in SIGNATURES.items():
             module = import_module(f"perfectgraphs.{module_name}")

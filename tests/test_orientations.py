@@ -1,8 +1,9 @@
 import unittest
-from itertools import permutations, product
+from itertools import permutations
 
 import helper
-from helper import DOUBLED, FIVE, HOUSE
+from helper import DOUBLED, FIVE, HOUSE, against_told, all_orientations, cliques_against, kernels_told
+from helper import some_orientations
 from perfectgraphs.errors import InvalidHole
 from perfectgraphs.orientations import (
     against, clique_against, is_clique_acyclic, is_kernel, is_orientation, kernels, orientation_without_kernel,
@@ -13,48 +14,6 @@ GREATER = (
     helper.even_rounds() + helper.odd_rounds_and_kin()[::5] + helper.extreme_graphs()[8:] + [HOUSE, FIVE, DOUBLED]
     + [graph for many in (5, 6, 7, 8, 9) for graph in helper.scattered(many, 5)]
 )
-
-
-def all_orientations(graph):
-    ways = [[((one, two),), ((two, one),), ((one, two), (two, one))] for one, two in graph[1]]
-    return [tuple(sorted(sum(chosen, ()))) for chosen in product(*ways)]
-
-
-def some_orientations(graph, count):
-    """Orientations of all kinds, the same ones each time: the first ones lead back nowhere."""
-    found, state = [], 4711
-    for at in range(count):
-        order = helper.shuffles(graph[0], at + 1)[at]
-        arcs = []
-        for one, two in graph[1]:
-            state = (state * 6364136223846793005 + 1442695040888963407) % 2 ** 64
-            first, last = sorted((one, two), key=lambda vertex: order[vertex])
-            turn = (state >> 40) % 8 if at >= count // 3 else 7
-            arcs.extend({0: [(last, first)], 1: [(first, last), (last, first)]}.get(turn, [(first, last)]))
-        found.append(tuple(sorted(arcs)))
-    return found
-
-
-def is_against(graph, arcs, lot):
-    """Whether no vertex of the clique has arcs from all others of it."""
-    return not any(all((other, vertex) in arcs for other in lot if other != vertex) for vertex in lot)
-
-
-def cliques_against(graph, arcs):
-    return [lot for lot in helper.cliques_of(graph)[1:] if is_against(graph, set(arcs), lot)]
-
-
-def kernels_told(graph, arcs):
-    """Each lot is looked at, arc by arc."""
-    pairs = set(arcs)
-    found = []
-    for lot in helper.lots_of(graph):
-        if any((one, two) in pairs or (two, one) in pairs for one in lot for two in lot):
-            continue
-        outside = [vertex for vertex in range(graph[0]) if vertex not in lot]
-        if all(any((vertex, inner) in pairs for inner in lot) for vertex in outside):
-            found.append(lot)
-    return tuple(sorted(found))
 
 
 def lead_back(graph, arcs):
@@ -71,29 +30,6 @@ def lead_back(graph, arcs):
         anywhere = anywhere or (start, 0) in reached or (start, 1) in reached
         odd = odd or (start, 1) in reached
     return anywhere, odd
-
-
-def against_told(graph, hole):
-    """The arcs against the hole, word by word as the document tells them."""
-    many, edges = graph
-    size = len(hole)
-    arcs = set()
-    for at in range(size):
-        def place(steps):
-            return hole[(at + steps) % size]
-        if tuple(sorted(hole[:2])) in edges:
-            arcs.add((place(0), place(1)))
-        elif size == 5:
-            arcs.add((place(0), place(2)))
-        elif size == 7:
-            arcs |= {(place(0), place(2)), (place(3), place(0))}
-        else:
-            arcs |= {(place(0), place(2)), (place(0), place(4)), (place(0), place(3)), (place(3), place(0))}
-    for vertex in set(range(many)) - set(hole):
-        for other in range(many):
-            if (min(vertex, other), max(vertex, other)) in edges and (other in hole or other < vertex):
-                arcs.add((vertex, other))
-    return tuple(sorted(arcs))
 
 
 class Session(unittest.TestCase):

@@ -1,9 +1,10 @@
 import unittest
 from fractions import Fraction
-from itertools import combinations, product
+from itertools import product
 
 import helper
-from helper import DOUBLED, FIVE, HOUSE
+from helper import DOUBLED, FIVE, HOUSE, corners_told, is_corner_told, is_in_told, on
+from helper import as_told as told
 from perfectgraphs.errors import TooMany
 from perfectgraphs.perfection import is_perfect
 from perfectgraphs.polytopes import corners, fractional_corner, is_corner, is_in
@@ -16,68 +17,6 @@ UP_TO_SIX = (
     + [(6, ((0, 3), (0, 4), (0, 5), (1, 2), (1, 3), (1, 5), (2, 3), (2, 4)))]
     + [(6, FIVE[1]), helper.graph_with(6, list(FIVE[1]) + [(at, 5) for at in range(5)])]
 )
-
-
-def told(number):
-    return (Fraction(number).numerator, Fraction(number).denominator)
-
-
-def on(graph, lot, share=(1, 1)):
-    """The SHARES that are this one on the lot and 0 elsewhere."""
-    return tuple(share if vertex in lot else (0, 1) for vertex in range(graph[0]))
-
-
-def solved(rows):
-    """The only solution of the equations, each a row with its sum behind it; None for none or several."""
-    rows = [[Fraction(number) for number in row] for row in rows]
-    width = len(rows[0]) - 1 if rows else 0
-    done = 0
-    for at in range(width):
-        pivot = next((place for place in range(done, len(rows)) if rows[place][at]), None)
-        if pivot is None:
-            return None
-        rows[done], rows[pivot] = rows[pivot], rows[done]
-        rows[done] = [number / rows[done][at] for number in rows[done]]
-        for place, row in enumerate(rows):
-            if place != done and row[at]:
-                rows[place] = [one - row[at] * two for one, two in zip(row, rows[done])]
-        done += 1
-    if any(row[-1] for row in rows[done:]):
-        return None
-    return [row[-1] for row in rows[:done]]
-
-
-def equations_of(graph):
-    """Share 0 for each vertex, sum 1 over each maximal clique."""
-    many = graph[0]
-    zeros = [[int(at == vertex) for at in range(many)] + [0] for vertex in range(many)]
-    lots = helper.maximal_of(helper.cliques_of(graph))
-    return zeros + [[int(at in lot) for at in range(many)] + [1] for lot in lots if lot]
-
-
-def is_in_told(graph, shares):
-    """Each clique is looked at, not the maximal ones alone."""
-    return all(sum(Fraction(*shares[vertex]) for vertex in lot) <= 1 for lot in helper.cliques_of(graph))
-
-
-def is_corner_told(graph, shares):
-    if not is_in_told(graph, shares):
-        return False
-    numbers = [Fraction(*share) for share in shares]
-    kept = [row for row in equations_of(graph) if sum(one * two for one, two in zip(row, numbers)) == row[-1]]
-    return solved(kept) == numbers if graph[0] else True
-
-
-def corners_told(graph):
-    """By all choices of as many equations as there are vertices."""
-    found = set()
-    for chosen in combinations(equations_of(graph), graph[0]):
-        numbers = solved(list(chosen))
-        if numbers is not None and min(numbers, default=0) >= 0:
-            shares = tuple(told(number) for number in numbers)
-            if shares not in found and is_in_told(graph, shares):
-                found.add(shares)
-    return tuple(sorted(found, key=lambda shares: [Fraction(*share) for share in shares]))
 
 
 class Session(unittest.TestCase):

@@ -6,13 +6,13 @@ from itertools import product
 import helper
 from helper import FIVE, HOUSE
 from perfectgraphs import (
-    changes, cliques, fractions, graphs, isomorphisms, lists, matchings, multigraphs, orientations, polytopes, substitution,
+    certificates, changes, cliques, fractions, graphs, isomorphisms, lists, matchings, multigraphs, orientations, polytopes, substitution,
     weights,
 )
 from perfectgraphs.errors import (
     GraphError, InvalidChange, InvalidColours, InvalidCutset, InvalidGraph, InvalidHole, InvalidLists, InvalidLot,
-    InvalidMatching, InvalidMultigraph, InvalidOrientation, InvalidPreferences, InvalidRenaming, InvalidShares,
-    InvalidTimes, InvalidVertex, InvalidWeights, TooMany, Unfit,
+    InvalidMatching, InvalidMultigraph, InvalidNumber, InvalidOrientation, InvalidPreferences, InvalidRenaming,
+    InvalidShares, InvalidTimes, InvalidVertex, InvalidWeights, NoPair, TooMany, Unfit,
 )
 
 
@@ -97,6 +97,9 @@ CUTSET = (InvalidCutset, ((1, 2), (0, 3), (4,)), but(
     ((1, 2), (0, 3), (None,)), ((1, 2), (0, 3), None), (helper.Odd(),) * 3, ((1, 2), (0, 3), (helper.Odd(),)),
     ((1, 2), (0, 3), (5,)), ((1, 2), (0, 3), (10 ** 39,)), ((1, 2), (0, 3), (4,) * 2000), ((1, 2, 4), (0,), (3,))))
 
+NUMBER = (InvalidNumber, 3, but(
+    [0, 1, 5, 10 ** 39], -1, -10 ** 39, "3", (3,), [3], (3, 1), b"3", {3: 3}, ((),)))
+
 # A value, whatever it is, is never refused.
 FREE = (None, (), [])
 
@@ -168,6 +171,17 @@ FUNCTIONS = {
     changes.is_clique_cutset: {"graph": GRAPH, "value": FREE},
     changes.clique_cutset: {"graph": GRAPH},
     changes.parts_of: {"graph": GRAPH, "cutset": CUTSET},
+    certificates.certify_perfect: {"graph": GRAPH},
+    certificates.certify_weight: {"graph": GRAPH, "weights": WEIGHTS},
+    certificates.certify_fractional: {"graph": GRAPH, "weights": WEIGHTS},
+    certificates.certify_colours: {"graph": GRAPH, "many": NUMBER},
+    certificates.certify_corner: {"graph": GRAPH, "shares": SHARES},
+    certificates.certify_isomorphic: {"graph": GRAPH, "other": OTHER},
+    certificates.certify_acyclic: {"graph": GRAPH, "orientation": ORIENTATION},
+    certificates.certify_kernel: {"graph": GRAPH, "orientation": ORIENTATION},
+    certificates.certify_stable: {"multigraph": MULTIGRAPH, "preferences": PREFERENCES, "matching": MATCHING},
+    certificates.certify_lists: {"multigraph": MULTIGRAPH, "lists": LISTS},
+    certificates.certify_cutset: {"graph": GRAPH},
 }
 
 # The house has no module and no odd hole: so other graphs are the right ones here.
@@ -258,6 +272,12 @@ class Refused(unittest.TestCase):
             wrong = (9, [])
             self.check_told(InvalidGraph, wrong, lambda: function((9, ()), wrong))
             self.assertRaises(TooMany, function, (9, ()), (1, ()))
+
+
+    def test_no_pair_is_told_behind_all_others(self):
+        wrong = (1, 1, 1, 1, True)
+        self.check_told(InvalidWeights, wrong, lambda: certificates.certify_weight(FIVE, wrong))
+        self.assertRaises(NoPair, certificates.certify_weight, FIVE, (1, 1, 1, 1, 1))
 
 
 class NothingChanges(unittest.TestCase):

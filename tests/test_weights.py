@@ -1,7 +1,7 @@
 import unittest
 
 import helper
-from helper import DOUBLED, FIVE, HOUSE
+from helper import DOUBLED, FIVE, HOUSE, is_cover_told, is_pair_told
 from perfectgraphs.cliques import chromatic_number, clique_number
 from perfectgraphs.substitution import replicated
 from perfectgraphs.weights import heaviest_clique, is_cover, is_pair, pair
@@ -10,28 +10,6 @@ MANY_GRAPHS = (
     helper.all_graphs(4)[::3] + helper.extreme_graphs() + helper.even_rounds() + helper.odd_rounds_and_kin()[::3]
     + [HOUSE, FIVE, DOUBLED] + [graph for many in (5, 6, 7, 8, 9) for graph in helper.scattered(many, 10)]
 )
-
-
-def is_cover_told(graph, weights, value):
-    """Whether the value is a COVER of the weights, word by word as the document tells it."""
-    if type(value) is not tuple or any(type(part) is not tuple or len(part) != 2 for part in value):
-        return False
-    stable = helper.stable_sets_of(graph)[1:]
-    if not all(helper.is_among(lot, stable) and type(times) is int and times > 0 for lot, times in value):
-        return False
-    lots = [lot for lot, _ in value]
-    if lots != sorted(set(lots)):
-        return False
-    return all(sum(times for lot, times in value if vertex in lot) >= weights[vertex] for vertex in range(graph[0]))
-
-
-def is_pair_told(graph, weights, value):
-    if type(value) is not tuple or len(value) != 2:
-        return False
-    clique, cover = value
-    if not helper.is_among(clique, helper.cliques_of(graph)) or not is_cover_told(graph, weights, cover):
-        return False
-    return sum(weights[vertex] for vertex in clique) == sum(times for _, times in cover)
 
 
 def one_by_one(weights):

@@ -150,7 +150,7 @@ JUDGES = {
         helper.is_pair_told(graph, weights, paper) and sum(weights[vertex] for vertex in paper[0]) == number),
     "fractional": lambda paper, *parts: is_best_in_fractions(*parts, paper),
     "colours": lambda paper, graph, many: helper.is_right(
-        lambda row: len(row) == graph[0] and all(one in range(many) for one in row)
+        lambda row: len(row) == graph[0] and all(is_number(one) and one < many for one in row)
         and all(row[one] != row[two] for one, two in graph[1]), paper),
     "not colours": lambda paper, graph, many: is_nothing(paper) and not helper.is_colourable(graph, min(many, 9)),
     "corner": lambda paper, graph, shares: is_nothing(paper) and helper.is_corner_told(graph, shares),
@@ -350,6 +350,15 @@ class NotPerfect(unittest.TestCase):
             self.assertIs(accepts(("not perfect", FIVE), ("orientation", arcs)), told)
             taken += told
         self.assertGreater(taken, 1)
+
+    def test_orientations_that_are_not_clique_acyclic(self):
+        kinds = set()
+        for graph, step in ((helper.round_of(3), 1), (DOUBLED, 7), (HOUSE, 1)):
+            for arcs in helper.all_orientations(graph)[::step]:
+                is_against, kernels = bool(helper.cliques_against(graph, arcs)), helper.kernels_told(graph, arcs)
+                self.assertIs(accepts(("not perfect", graph), ("orientation", arcs)), not is_against and not kernels)
+                kinds.add((graph[0], is_against, bool(kernels)))
+        self.assertLessEqual({(3, True, False), (6, True, False), (6, False, False), (5, True, False)}, kinds)
 
     def test_each_lot_and_each_corner(self):
         for graph in [FIVE, DOUBLED, HOUSE, helper.opposite(DOUBLED)]:

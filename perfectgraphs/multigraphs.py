@@ -38,14 +38,18 @@ def check_multigraph(multigraph):
 
 def edges_at_left(multigraph):
     """For each left vertex of a MULTIGRAPH the ascending list of the edges at it."""
-    many, _, edges = multigraph
-    return [[edge for edge, (left, _) in enumerate(edges) if left == vertex] for vertex in range(many)]
+    return _edges_at(multigraph, 0)
 
 
 def edges_at_right(multigraph):
     """For each right vertex of a MULTIGRAPH the ascending list of the edges at it."""
-    _, many, edges = multigraph
-    return [[edge for edge, (_, right) in enumerate(edges) if right == vertex] for vertex in range(many)]
+    return _edges_at(multigraph, 1)
+
+
+def _edges_at(multigraph, side):
+    # Both the numbers of vertices and the ends of an edge stand left ahead of right.
+    ends = [edge[side] for edge in multigraph[2]]
+    return [[edge for edge, end in enumerate(ends) if end == vertex] for vertex in range(multigraph[side])]
 
 
 def greatest_degree(multigraph):

@@ -74,6 +74,26 @@ class Form(unittest.TestCase):
                     for alias in node.names:
                         self.assertIn(alias.name, defined, name)
 
+    def test_no_two_files_import_from_each_other(self):
+        ahead = {}
+        for name, tree in trees():
+            modules = [node.module for node in tree.body if isinstance(node, ast.ImportFrom)]
+            ahead[name] = {module.split(".")[1] + ".py" for module in modules if module not in LIBRARY}
+        while ahead:
+            free = [name for name, others in ahead.items() if not others]
+            self.assertTrue(free, ahead)
+            ahead = {name: others - set(free) for name, others in ahead.items() if others}
+
+    def test_no_parameter_or_variable_has_the_name_of_an_import(self):
+        for name, tree in trees():
+            imported = {alias.name for node in tree.body if isinstance(node, ast.ImportFrom) for alias in node.names}
+            bound = [node.arg for node in ast.walk(tree) if isinstance(node, ast.arg)]
+            bound += [node.id for node in ast.walk(tree) if isinstance(node, ast.Name) and isinstance(node.ctx, ast.Store)]
+            bound += [node.name for node in ast.walk(tree) if isinstance(node, ast.ExceptHandler)]
+            self.assertEqual(imported & set(bound), set(), name)
+            used = {node.id for node in ast.walk(tree) if isinstance(node, ast.Name)}
+            self.assertEqual(imported - used, set(), name)
+
     def test_words_of_the_language(self):
         for name, tree in trees():
             bound = bound_names(tree)
